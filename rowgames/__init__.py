@@ -1,0 +1,1 @@
+"""Rowgames: games on rows of signs, decided for rows of all lengths."""

@@ -1,0 +1,219 @@
+"""The four kinds of games."""
+
+from rowgames.books import Book
+from rowgames.errors import BadGame, BadSeat, OtherSigns
+from rowgames.letters import is_from_to
+from rowgames.machines import Machine
+
+
+class Game:
+    """The base of all games. How a game is read and changed, each kind below tells itself."""
+
+    def __init__(self, books, goal, last):
+        self.weights = books[0].weights
+        self.books = books
+        self.seats = len(books)
+        self.goal = goal
+        self.last = last
+        self.longest = max([int(book.longest) for book in books])
+
+    def book_of(self, seat):
+        """The book by which a seat moves."""
+        check_seat(self, seat)
+        return self.books[seat]
+
+    def judge(self, seat):
+        """The seat whose machine judges the rows behind the moves of a seat."""
+        check_seat(self, seat)
+        return self.seats - 1 - seat
+
+    def reads(self, is_goal, answers):
+        """The right side of the equation at a row."""
+        raise NotImplementedError("each kind of game tells this itself")
+
+    def __neg__(self):
+        raise NotImplementedError("each kind of game tells this itself")
+
+    def renamed(self, names):
+        """The game with the letters that a dict gives the signs."""
+        raise NotImplementedError("each kind of game tells this itself")
+
+    def __eq__(self, other):
+        if not isinstance(other, Game) or self.__class__.__name__ != other.__class__.__name__:
+            return False
+        return self.books == other.books and self.goal == other.goal and self.last == other.last
+
+
+class Alone(Game):
+    """A game of one player with a goal."""
+
+
+class Some(Alone):
+    """A row is won if it is a goal row or some move leads to a won row."""
+
+    def __init__(self, book, goal):
+        check_alone(book, goal)
+        super().__init__((book,), goal, None)
+
+    def book_of(self, seat):
+        """The book by which a seat moves."""
+        check_seat(self, seat)
+        return self.books[0]
+
+    def judge(self, seat):
+        """The seat whose machine judges the rows behind the moves of a seat."""
+        check_seat(self, seat)
+        return seat
+
+    def reads(self, is_goal, answers):
+        """The right side of the equation at a row."""
+        return is_goal or any(answers)
+
+    def __neg__(self):
+        return Some(-self.books[0], self.goal.turned())
+
+    def renamed(self, names):
+        """The game with the letters that a dict gives the signs."""
+        return Some(self.books[0].renamed(names), self.goal.renamed(names))
+
+    def __eq__(self, other):
+        return isinstance(other, Some) and self.books == other.books and self.goal == other.goal
+
+
+class Every(Alone):
+    """A row is won if each play that is played to its end ends in a goal row."""
+
+    def __init__(self, book, goal):
+        check_alone(book, goal)
+        super().__init__((book,), goal, None)
+
+    def book_of(self, seat):
+        """The book by which a seat moves."""
+        check_seat(self, seat)
+        return self.books[0]
+
+    def judge(self, seat):
+        """The seat whose machine judges the rows behind the moves of a seat."""
+        check_seat(self, seat)
+        return seat
+
+    def reads(self, is_goal, answers):
+        """The right side of the equation at a row."""
+        if len(answers) == 0:
+            return is_goal
+        return all(answers)
+
+    def __neg__(self):
+        return Every(-self.books[0], self.goal.turned())
+
+    def renamed(self, names):
+        """The game with the letters that a dict gives the signs."""
+        return Every(self.books[0].renamed(names), self.goal.renamed(names))
+
+    def __eq__(self, other):
+        return isinstance(other, Every) and self.books == other.books and self.goal == other.goal
+
+
+class Duel(Game):
+    """A game of two players by turns, in which who cannot move loses or, if last is False, wins."""
+
+
+class Shared(Duel):
+    """Both players move by one book."""
+
+    def __init__(self, book, *, last=True):
+        if not isinstance(book, Book):
+            raise BadGame("book")
+        check_last(last)
+        super().__init__((book,), None, last)
+
+    def book_of(self, seat):
+        """The book by which a seat moves."""
+        check_seat(self, seat)
+        return self.books[0]
+
+    def judge(self, seat):
+        """The seat whose machine judges the rows behind the moves of a seat."""
+        check_seat(self, seat)
+        return seat
+
+    def reads(self, is_goal, answers):
+        """The right side of the equation at a row."""
+        return reads_duel(self.last, answers)
+
+    def __neg__(self):
+        return Shared(-self.books[0], last=self.last)
+
+    def renamed(self, names):
+        """The game with the letters that a dict gives the signs."""
+        return Shared(self.books[0].renamed(names), last=self.last)
+
+    def __eq__(self, other):
+        return isinstance(other, Shared) and self.books == other.books and self.last == other.last
+
+
+class Sides(Duel):
+    """Seat 0 moves by the left book, seat 1 by the right one."""
+
+    def __init__(self, left, right, *, last=True):
+        if not isinstance(left, Book):
+            raise BadGame("left")
+        if not isinstance(right, Book):
+            raise BadGame("right")
+        if left.weights != right.weights:
+            raise OtherSigns("right")
+        check_last(last)
+        super().__init__((left, right), None, last)
+
+    def book_of(self, seat):
+        """The book by which a seat moves."""
+        check_seat(self, seat)
+        return self.books[seat]
+
+    def judge(self, seat):
+        """The seat whose machine judges the rows behind the moves of a seat."""
+        check_seat(self, seat)
+        return 1 - seat
+
+    def reads(self, is_goal, answers):
+        """The right side of the equation at a row."""
+        return reads_duel(self.last, answers)
+
+    def __neg__(self):
+        return Sides(-self.books[0], -self.books[1], last=self.last)
+
+    def renamed(self, names):
+        """The game with the letters that a dict gives the signs."""
+        return Sides(self.books[0].renamed(names), self.books[1].renamed(names), last=self.last)
+
+    def __eq__(self, other):
+        return isinstance(other, Sides) and self.books == other.books and self.last == other.last
+
+
+def check_seat(game, seat):
+    """Raise BadSeat for any value that is no seat of a game."""
+    if not is_from_to(seat, 0, game.seats - 1):
+        raise BadSeat(seat)
+
+
+def check_alone(book, goal):
+    """Raise what a book and a goal, any values, do not let pass."""
+    if not isinstance(book, Book):
+        raise BadGame("book")
+    if not isinstance(goal, Machine):
+        raise BadGame("goal")
+    if goal.signs != book.weights.signs:
+        raise OtherSigns("goal")
+
+
+def check_last(last):
+    """Raise BadGame for any value that is no bool."""
+    if not isinstance(last, bool):
+        raise BadGame("last")
+
+
+def reads_duel(last, answers):
+    """Whether a row is won for who is to move in a duel."""
+    if len(answers) == 0:
+        return not last
+    return not all(answers)

@@ -1,0 +1,69 @@
+"""The rules of the language, as far as a script can see them, held against each file of the package."""
+
+import ast
+import unittest
+
+from tests import language
+from tests.purity import check_purity, run_by_operators
+
+
+class TestLanguage(unittest.TestCase):
+    maxDiff = None
+
+    @classmethod
+    def setUpClass(cls):
+        cls.files = language.package_files()
+
+    def clean(self, check, *more):
+        for file in self.files:
+            self.assertEqual(check(file, *more), [])
+
+    def test_the_folder(self):
+        self.assertEqual(language.check_folder(), [])
+        self.assertLessEqual(len(self.files), 100)
+
+    def test_characters_and_sizes(self):
+        self.clean(language.check_characters)
+
+    def test_words(self):
+        self.clean(language.check_words)
+
+    def test_imports(self):
+        self.clean(language.check_imports)
+        self.assertEqual(language.check_cycles(self.files), [])
+
+    def test_module_level(self):
+        self.clean(language.check_module_level)
+
+    def test_names(self):
+        self.clean(language.check_names)
+
+    def test_functions(self):
+        self.clean(language.check_functions)
+
+    def test_classes(self):
+        self.clean(language.check_classes)
+        classes = {node.name for file in self.files for node in file.nodes(ast.ClassDef)}
+        self.clean(language.check_classes_used, classes)
+
+    def test_statements(self):
+        self.clean(language.check_statements)
+
+    def test_calls(self):
+        own = {node.name for file in self.files for node in file.nodes(ast.FunctionDef)}
+        self.clean(language.check_calls, own)
+
+    def test_generators(self):
+        generators, found = language.check_generators(self.files)
+        self.assertEqual(found, [])
+        self.assertEqual(generators, {"rows", "places", "moves"})
+        self.clean(language.check_iterated, generators)
+        self.clean(language.check_changed_in_loops)
+
+    def test_names_that_classes_share(self):
+        self.assertEqual(language.check_shared_names(self.files), [])
+
+    def test_operators_change_nothing(self):
+        self.assertEqual(check_purity(self.files), [])
+        run = {function.name for function, _ in run_by_operators(self.files)}
+        self.assertLessEqual({"paired", "smallest", "mirrored", "weigh", "check_row"}, run)
