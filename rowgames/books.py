@@ -46,7 +46,7 @@ class Book:
         raise TypeError("books are not iterated over")
 
     def __contains__(self, x):
-        return isinstance(x, Rule) and x in self.rules
+        return x in self.rules
 
     def __eq__(self, other):
         return isinstance(other, Book) and self.weights == other.weights and self.rules == other.rules

@@ -7,7 +7,7 @@ from rowgames.machines import Machine
 
 
 class Game:
-    """The base of all games. How a game is read and changed, each kind below tells itself."""
+    """The base of all games. Each kind below has all the methods of a game in its own body."""
 
     def __init__(self, books, goal, last):
         self.weights = books[0].weights
@@ -25,6 +25,7 @@ class Game:
     def judge(self, seat):
         """The seat whose machine judges the rows behind the moves of a seat."""
         check_seat(self, seat)
+        # Of two seats it is the other one, of one seat this one.
         return self.seats - 1 - seat
 
     def reads(self, is_goal, answers):
@@ -39,8 +40,10 @@ class Game:
         raise NotImplementedError("each kind of game tells this itself")
 
     def __eq__(self, other):
-        if not isinstance(other, Game) or self.__class__.__name__ != other.__class__.__name__:
-            return False
+        return isinstance(other, Game) and self.has_parts_of(other)
+
+    def has_parts_of(self, other):
+        """Whether another game has the same books, goal and last."""
         return self.books == other.books and self.goal == other.goal and self.last == other.last
 
 
@@ -57,13 +60,11 @@ class Some(Alone):
 
     def book_of(self, seat):
         """The book by which a seat moves."""
-        check_seat(self, seat)
-        return self.books[0]
+        return super().book_of(seat)
 
     def judge(self, seat):
         """The seat whose machine judges the rows behind the moves of a seat."""
-        check_seat(self, seat)
-        return seat
+        return super().judge(seat)
 
     def reads(self, is_goal, answers):
         """The right side of the equation at a row."""
@@ -77,7 +78,7 @@ class Some(Alone):
         return Some(self.books[0].renamed(names), self.goal.renamed(names))
 
     def __eq__(self, other):
-        return isinstance(other, Some) and self.books == other.books and self.goal == other.goal
+        return isinstance(other, Some) and self.has_parts_of(other)
 
 
 class Every(Alone):
@@ -89,13 +90,11 @@ class Every(Alone):
 
     def book_of(self, seat):
         """The book by which a seat moves."""
-        check_seat(self, seat)
-        return self.books[0]
+        return super().book_of(seat)
 
     def judge(self, seat):
         """The seat whose machine judges the rows behind the moves of a seat."""
-        check_seat(self, seat)
-        return seat
+        return super().judge(seat)
 
     def reads(self, is_goal, answers):
         """The right side of the equation at a row."""
@@ -111,7 +110,7 @@ class Every(Alone):
         return Every(self.books[0].renamed(names), self.goal.renamed(names))
 
     def __eq__(self, other):
-        return isinstance(other, Every) and self.books == other.books and self.goal == other.goal
+        return isinstance(other, Every) and self.has_parts_of(other)
 
 
 class Duel(Game):
@@ -129,13 +128,11 @@ class Shared(Duel):
 
     def book_of(self, seat):
         """The book by which a seat moves."""
-        check_seat(self, seat)
-        return self.books[0]
+        return super().book_of(seat)
 
     def judge(self, seat):
         """The seat whose machine judges the rows behind the moves of a seat."""
-        check_seat(self, seat)
-        return seat
+        return super().judge(seat)
 
     def reads(self, is_goal, answers):
         """The right side of the equation at a row."""
@@ -149,7 +146,7 @@ class Shared(Duel):
         return Shared(self.books[0].renamed(names), last=self.last)
 
     def __eq__(self, other):
-        return isinstance(other, Shared) and self.books == other.books and self.last == other.last
+        return isinstance(other, Shared) and self.has_parts_of(other)
 
 
 class Sides(Duel):
@@ -167,13 +164,11 @@ class Sides(Duel):
 
     def book_of(self, seat):
         """The book by which a seat moves."""
-        check_seat(self, seat)
-        return self.books[seat]
+        return super().book_of(seat)
 
     def judge(self, seat):
         """The seat whose machine judges the rows behind the moves of a seat."""
-        check_seat(self, seat)
-        return 1 - seat
+        return super().judge(seat)
 
     def reads(self, is_goal, answers):
         """The right side of the equation at a row."""
@@ -187,7 +182,7 @@ class Sides(Duel):
         return Sides(self.books[0].renamed(names), self.books[1].renamed(names), last=self.last)
 
     def __eq__(self, other):
-        return isinstance(other, Sides) and self.books == other.books and self.last == other.last
+        return isinstance(other, Sides) and self.has_parts_of(other)
 
 
 def check_seat(game, seat):

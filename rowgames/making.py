@@ -22,15 +22,15 @@ def trie(signs, rows):
 def finder(signs, text):
     """A machine that tells the rows in which a text stands; its state is how much of it is found."""
     steps = []
-    # A sign that does not go on leads where it would lead behind a part of what is found:
-    # the longest end of it that the text begins with. So the row of that state is copied.
-    back = 0
+    # A sign that does not go on leads where it would lead behind less of the text: behind the
+    # longest end of what is found, other than all of it, that the text begins with.
+    back = [0] * len(signs)
     for found, sign in enumerate(text):
         at = signs.index(sign)
-        onward = list(steps[back]) if found > 0 else [0] * len(signs)
-        back = onward[at]
+        onward = list(back)
         onward[at] = found + 1
         steps.append(onward)
+        back = steps[back[at]]
     steps.append([len(text)] * len(signs))
     return steps, [False] * len(text) + [True]
 

@@ -69,11 +69,9 @@ class Rule:
         return Rule(self.old[::-1], self.new[::-1], left=self.right, right=self.left)
 
     def __mul__(self, other):
-        # A great number would make stretches that no memory holds: only lengths are compared.
+        # A great number would make a stretch that no memory holds: so the length is asked first.
         if len(self.old) * other > Rule.LONGEST:
             raise BadRule("old")
-        if len(self.new) * other > Rule.LONGEST:
-            raise BadRule("new")
         return Rule(self.old * other, self.new * other, left=self.left, right=self.right)
 
     def __rmul__(self, other):

@@ -69,9 +69,9 @@ def kinds_of(steps, told):
     many = len(steps[0])
     ahead = origins(steps)
     kinds = [1 if answer else 0 for answer in told]
-    blocks = {0: {}, 1: {}}
-    for state, kind in enumerate(kinds):
-        blocks[kind][state] = True
+    blocks = {}
+    blocks[0] = {state: True for state, kind in enumerate(kinds) if kind == 0}
+    blocks[1] = {state: True for state, kind in enumerate(kinds) if kind == 1}
     waiting = [0, 1]
     while waiting:
         splitter = list(blocks[waiting.pop()])

@@ -20,7 +20,7 @@ def first_told(signs, steps, told):
 
 def hopes_of(steps, told, length):
     """For each number of signs from 0 to length: whether so many lead from a state to a told one."""
-    hopes = [list(told)]
+    hopes = [told]
     for left in range(length):
         nearer = hopes[left]
         hopes.append([any([nearer[led] for led in onward]) for onward in steps])

@@ -9,7 +9,7 @@ import os
 import re
 import sys
 
-from tests.helpers import PACKAGE
+from helpers import PACKAGE
 
 BUILTINS = set("""len range enumerate zip min max sum abs sorted reversed int str bool list tuple dict set isinstance ord
     repr any all divmod pow super property classmethod ValueError TypeError KeyError NotImplementedError NotImplemented""".split())

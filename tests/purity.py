@@ -2,7 +2,7 @@
 
 import ast
 
-from tests.language import (CHANGING, MODIFYING, OPERATORS, bound_in, class_of, functions_of, is_generator, names_of)
+from language import (CHANGING, MODIFYING, OPERATORS, bound_in, class_of, functions_of, is_generator, names_of)
 
 ASKING = {"__neg__", "__invert__", "__bool__", "__contains__", "__getitem__", "__eq__", "__len__", "__str__", "__repr__"}
 NEW_CALLS = ("list", "dict", "set", "sorted", "tuple")

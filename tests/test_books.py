@@ -6,7 +6,7 @@ from rowgames.books import Book
 from rowgames.errors import BadBook, BadMove, BadRow, BadSigns, Heavier, OtherSigns, Unlessened
 from rowgames.rules import Rule
 from rowgames.signs import Weights
-from tests.helpers import XO, Case, odd_values, values_but
+from helpers import XO, Case, odd_values, values_but
 
 ABC = Weights(("a", 5), ("b", 2), ("c", 0))
 EIGHT = [Rule.read(text) for text in ("a>b", "a>c", "b>c", "b>", "a>", "aa>a", "[ab>ac", "ba>ca]")]

@@ -3,7 +3,7 @@
 import inspect
 
 from rowgames import errors
-from tests.helpers import Case, odd_values
+from helpers import Case, odd_values
 
 FIELDS = {
     "BadSigns": ("part",), "BadRow": ("at",), "BadRule": ("part",), "BadBook": ("at",), "Heavier": ("at",),

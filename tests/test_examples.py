@@ -3,7 +3,7 @@
 import os
 import unittest
 
-from tests.helpers import DOC, Case, Transcript
+from helpers import DOC, Case, Transcript
 
 SIGNS = """
 >>> from rowgames.signs import Weights

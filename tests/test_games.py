@@ -8,7 +8,7 @@ from rowgames.games import Alone, Duel, Every, Game, Shared, Sides, Some
 from rowgames.machines import Machine
 from rowgames.rules import Rule
 from rowgames.signs import Weights
-from tests.helpers import FLIP, ODD, XO, Case, odd_values, values_but
+from helpers import FLIP, ODD, XO, Case, odd_values, values_but
 
 LONG = Book(XO, Rule("xxo", "o", left=True), Rule("x", "oo", right=True))
 OX = Weights(("o", 0), ("x", 1))

@@ -3,8 +3,8 @@
 import ast
 import unittest
 
-from tests import language
-from tests.purity import check_purity, run_by_operators
+import language
+from purity import check_purity, run_by_operators
 
 
 class TestLanguage(unittest.TestCase):

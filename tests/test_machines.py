@@ -6,7 +6,7 @@ import random
 
 from rowgames.errors import BadMachine, BadNumber, BadRow, BadSigns, OtherSigns, TooMany
 from rowgames.machines import Machine
-from tests.helpers import ODD, Case, odd_values, values_but
+from helpers import ODD, Case, odd_values, values_but
 
 
 def words(signs, most):

@@ -9,7 +9,7 @@ from rowgames.machines import Machine
 from rowgames.plain import is_won, met
 from rowgames.rules import Rule
 from rowgames.signs import Weights
-from tests.helpers import FLIP, ODD, SHARED, Case, odd_values, values_but
+from helpers import FLIP, ODD, SHARED, Case, odd_values, values_but
 
 ABC = Weights(("b", 3), ("a", 1), ("c", 0))
 LEFT = [Rule("b", "aa"), Rule("ab", "cb", left=True), Rule("aa", ""), Rule("cab", "b", right=True)]

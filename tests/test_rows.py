@@ -7,7 +7,7 @@ from rowgames.errors import BadBook, BadMove, BadRow, NothingPlayed
 from rowgames.rows import Row
 from rowgames.rules import Rule
 from rowgames.signs import Weights
-from tests.helpers import XO, Case, odd_values, values_but
+from helpers import XO, Case, odd_values, values_but
 
 BOOK = Book(XO, Rule("xxo", "oox"), Rule("oxx", "xoo"), Rule("x", "", right=True), Rule("x", "oo"))
 

@@ -4,7 +4,7 @@ import itertools
 
 from rowgames.errors import BadMove, BadRule, BadText
 from rowgames.rules import Rule
-from tests.helpers import Case, odd_values
+from helpers import Case, odd_values
 
 ENDS = [(False, False), (True, False), (False, True), (True, True)]
 

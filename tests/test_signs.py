@@ -4,7 +4,7 @@ import itertools
 
 from rowgames.errors import BadRow, BadSigns
 from rowgames.signs import Weights
-from tests.helpers import XO, Case, odd_values, values_but
+from helpers import XO, Case, odd_values, values_but
 
 FOUR = Weights(("b", 9), ("a", 0), ("z", 3), ("q", 3))
 
