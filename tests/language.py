@@ -111,7 +111,8 @@ def check_folder():
         stem = name[:-3]
         if not re.fullmatch(r"[a-z][a-z0-9_]*\.py|__init__\.py", name):
             found.append(f"{name}: no plain name")
-        if stem != "__init__" and hasattr(builtins, stem) or stem in BARRED | BARRED_NAMES | {"site", "test", "tests", "testing", "conftest"}:
+        barred = BARRED | BARRED_NAMES | {"site", "test", "tests", "testing", "conftest"}
+        if stem != "__init__" and hasattr(builtins, stem) or stem in barred:
             found.append(f"{name}: such a name is not used")
     if os.path.basename(PACKAGE) in sys.stdlib_module_names:
         found.append("the package has the name of a module of the standard library")
