@@ -15,7 +15,12 @@ class Game:
         self.seats = len(books)
         self.goal = goal
         self.last = last
-        self.longest = max([int(book.longest) for book in books])
+        self._longest = max([int(book.longest) for book in books])
+
+    @property
+    def longest(self):
+        """The length of the longest old stretch of the books, 0 without rules."""
+        return self._longest
 
     def book_of(self, seat):
         """The book by which a seat moves."""

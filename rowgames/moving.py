@@ -16,16 +16,32 @@ def moves_from(rules, row):
 
 def rows_behind(rules, row):
     """The rows to which the moves from a row lead, in the order of moves."""
-    rows = []
-    for place, index in moves_from(rules, row):
-        rule = rules[index]
-        rows.append(row[:place] + rule.new + row[place + len(rule.old):])
-    return rows
+    return [row_of_move(rules, row, move) for move in moves_from(rules, row)]
+
+
+def row_of_move(rules, row, move):
+    """The row to which a move leads, for what is a move."""
+    place, index = move
+    rule = rules[index]
+    return row[:place] + rule.new + row[place + len(rule.old):]
+
+
+def has_form_of_move(value):
+    """Whether any value is a tuple of two integers."""
+    return isinstance(value, tuple) and len(value) == 2 and all([is_integer(part) for part in value])
+
+
+def is_move(rules, row, value):
+    """Whether any value is a move from a row."""
+    if not has_form_of_move(value) or not is_from_to(value[1], 0, len(rules) - 1):
+        return False
+    place, index = value
+    return rules[index].fits(row, place)
 
 
 def row_behind_move(rules, row, move):
     """The row to which a move, any value, leads; raises BadMove for what is no move."""
-    if not isinstance(move, tuple) or len(move) != 2 or not all([is_integer(part) for part in move]):
+    if not has_form_of_move(move):
         raise BadMove("form")
     place, index = move
     if not is_from_to(index, 0, len(rules) - 1):

@@ -1,14 +1,23 @@
-"""The order of rows, for lists of positions."""
+"""The order of rows."""
 
 
-def in_order(weights, positions):
-    """Different positions by the order of their rows, then by seat."""
-    marked = {mark_of(weights, row, seat): (row, seat) for row, seat in positions}
-    return [marked[mark] for mark in sorted([str(mark) for mark in marked])]
+def in_order(signs, rows):
+    """Different rows of one weight, one at least, by length and then by the signs in order."""
+    text = "\n".join(rows)
+    # Letters need not be in the order of the signs, figures are.
+    for at, sign in enumerate(signs):
+        text = text.replace(sign, str(at))
+    marks = sorted(sorted(text.split("\n"), key=str), key=len)
+    text = "\n".join(marks)
+    for at, sign in enumerate(signs):
+        text = text.replace(str(at), sign)
+    return text.split("\n")
 
 
-def mark_of(weights, row, seat):
-    """A string by which positions are ordered as the places of their rows are."""
-    weight, length, indexes = weights.place(row)
-    digits = "".join([str(index) for index in indexes])
-    return f"{weight:012d} {length:012d} {digits} {seat}"
+def positions_in_order(signs, met, levels):
+    """The positions of all seats, whose rows are given by weight, by their rows, then by seat."""
+    positions = []
+    for weight in sorted([int(weight) for weight in levels]):
+        rows = in_order(signs, list(levels[weight]))
+        positions.extend([(row, seat) for row in rows for seat in range(len(met)) if row in met[seat]])
+    return positions

@@ -15,13 +15,18 @@ class Weights:
             if not is_pair(pair) or pair[0] in signs:
                 raise BadSigns(at)
             signs = signs + pair[0]
-        self.signs = signs
+        self._signs = signs
         self.pairs = pairs
 
     @classmethod
     def of(cls, pairs):
         """The weights of a list or tuple of pairs."""
         return cls(*pairs)
+
+    @property
+    def signs(self):
+        """The signs in order, a string."""
+        return self._signs
 
     def __len__(self):
         return len(self.pairs)

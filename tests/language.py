@@ -394,7 +394,7 @@ def check_calls(file, own):
             if node.func.attr in METHODS and keywords:
                 found.append(file.says(node, "a keyword of a method of a builtin value"))
         elif isinstance(node.func, ast.Name) and node.func.id in BUILTINS:
-            if keywords - ({"default"} if node.func.id in ("min", "max") else set()):
+            if keywords - {"min": {"default"}, "max": {"default"}, "sorted": {"key"}}.get(node.func.id, set()):
                 found.append(file.says(node, "a keyword of a builtin"))
             if node.func.id == "set":
                 above = node.above
@@ -420,7 +420,12 @@ def check_sorted(file, node):
     first = node.args[0]
     plain = isinstance(first, ast.ListComp) and isinstance(first.elt, ast.Call) \
         and ast.unparse(first.elt.func) in ("int", "str", "len")
-    return [] if plain else [file.says(node, "this is not plainly numbers or strings")]
+    keys = [ast.unparse(one.value) for one in node.keywords if one.arg == "key"]
+    # Of two values one that is written out is enough.
+    beside = len(node.args) == 2 and isinstance(first, ast.Constant)
+    if plain or beside or keys and keys[0] in ("int", "str", "len"):
+        return []
+    return [file.says(node, "this is not plainly numbers or strings")]
 
 
 def check_iterated(file, generators):
@@ -489,6 +494,8 @@ def check_shared_names(files):
         for node in file.nodes(ast.ClassDef):
             values |= {one.targets[0].id for one in node.body if isinstance(one, ast.Assign)}
     found = [f"{name} is a property and something else" for name in properties & (methods | made | values | METHODS)]
+    # No property of the package has a setter (check_functions lets no such decorator by).
+    found += [f"{name} is assigned and a property without a setter" for name in properties & stored]
     found += [f"{name} is a class method and something else" for name in made & (methods | stored | values | METHODS)]
     found += [f"{name} is a class value and something else" for name in values & (methods | stored)]
     known = stored | properties | values | {"__name__", "__class__"}

@@ -78,33 +78,128 @@ GAMES = """
 raises OtherSigns('goal')
 """
 
-# The ledgers of these examples are not built yet: the parts of the lines that need them are left out.
-PLAIN = """
+LEDGERS = """
+>>> from rowgames.ledgers import ledger_of, shows_won
 >>> from rowgames.plain import is_won, met
 >>> [is_won(game, row) for row in ["", "x", "xx", "xox", "xxx"]]
 [False, True, False, False, True]
->>> met(game, "xx")
-[('oo', 0), ('xo', 0), ('ox', 0), ('xx', 0)]
+>>> [met(game, "xx"), ledger_of(game, "ox")]
+[[('oo', 0), ('xo', 0), ('ox', 0), ('xx', 0)], {('oo', 0): (False, None), ('ox', 0): (True, (1, 0))}]
+>>> [shows_won(game, "ox", 0, True, ledger_of(game, "ox")), shows_won(game, "ox", 0, True, {("ox", 0): (True, (1, 0))})]
+[True, False]
 >>> is_won(game, "xxxx", most=15)
 raises TooMany('rows', 15)
 """
 
-WORD_FOR_WORD = (SIGNS, BOOKS, ROWS, MACHINES, GAMES)
+IMAGES = """
+>>> from rowgames.images import image, led_into, stuck, within
+>>> odd = Machine("xo", ((1, 0), (0, 1)), (False, True))
+>>> [stuck(flip) == ~Machine.having("xo", "x"), led_into(flip, ~odd) == odd]
+[True, True]
+>>> [image(game, odd) == (odd,), image(game, Machine.none("xo")) == (Machine.having("xo", "x"),)]
+[True, True]
+>>> found = []
+>>> for machine in within(Some(flip, stuck(flip))):
+...     found.append([machine["xox"], machine["xoxx"]])
+...     if len(found) == 4:
+...         break
+>>> found
+[[False, False], [False, False], [True, False], [True, True]]
+"""
+
+STANDS = """
+>>> from rowgames.stands import next_stand, passes, stand_at, stands
+>>> [stand_at(game, [odd], "xx"), next_stand(game, [odd], stand_at(game, [odd], "xx"), "o")]
+[(False, (1,), 'x', ((1,),), None), (False, (0,), 'o', ((1,),), None)]
+>>> [row for stand, row in stands(game, [odd])]
+['', 'o', 'oo', 'x', 'xo', 'ox', 'xx', 'xxo']
+>>> [passes(game, [odd], stand_at(game, [odd], "xx"), 0), passes(game, [Machine.none("xo")], stand_at(game, [Machine.none("xo")], "ox"), 0)]
+[True, False]
+>>> whole = Shared(Book(weights, Rule("xx", "o", left=True, right=True)))
+>>> [stand_at(whole, [odd], row)[:4] for row in ("xx", "xxx")]
+[(True, (0,), 'xx', ((),)), (False, (1,), 'xx', ((),))]
+"""
+
+LOOKERS = """
+>>> from rowgames.lookers import shows_right, shows_wrong
+>>> from rowgames.tables import look
+>>> found = look(game, odd)
+>>> [bool(found), len(found.table), found.table[0], shows_right(game, [odd], found.table), shows_right(game, [odd], found.table[1:])]
+[True, 8, (True, (0,), '', ((),), None), True, False]
+>>> none = Machine.none("xo")
+>>> wrong = look(game, none)
+>>> [wrong.row, wrong.seat, wrong.bounds]
+['x', 0, (((True, (0,), '', ((),), None), ''), ((True, (0,), 'o', ((),), None), 'o'), ((False, (0,), 'o', ((),), None), 'oo'))]
+>>> [shows_wrong(game, [none], "x", 0, wrong.bounds), shows_wrong(game, [none], "xo", 0, wrong.bounds), shows_wrong(game, [none], "x", 0, ())]
+[True, False, False]
+>>> V = Weights(("x", 2), ("o", 1), ("z", 0))
+>>> sides = Sides(Book(V, Rule("x", "o")), Book(V, Rule("o", "z")))
+>>> [bool(look(sides, Machine.none("xoz"), Machine.having("xoz", "o"))), look(sides, Machine.none("xoz"), Machine.none("xoz")).row]
+[True, 'o']
+>>> look(game, odd, most=7)
+raises TooMany('stands', 7)
+"""
+
+PARTED = """
+>>> from rowgames.least import least, sizes
+>>> from rowgames.parted import shows_least, shows_parted
+>>> found = least(game, 2)
+>>> (bool(found), found.members, found.endings, found.machines[0].steps, found.machines[0].told)
+(True, (('', 'x'),), (((0, 1, ''),),), ((1, 0), (0, 1)), (False, True))
+>>> shows_least(game, found.machines, found.table, found.members, found.endings)
+True
+>>> bar = least(game, 1)
+>>> (bool(bar), bar.seat, bar.beginnings, bar.endings)
+(False, 0, ('', 'x'), ((0, 1, ''),))
+>>> bar.ledger == {("", 0): (False, None), ("o", 0): (False, None), ("x", 0): (True, (0, 0))}
+True
+>>> [bool(one) for one in sizes(game, 9)]
+[False, True]
+>>> pairs = Shared(Book(weights, Rule("xx", "oo")))
+>>> bar = least(pairs, 3)
+>>> bar.beginnings
+('', 'x', 'xx', 'xxx')
+>>> bar.endings
+((0, 1, 'x'), (0, 2, ''), (0, 3, ''), (1, 2, ''), (1, 3, ''), (2, 3, 'xx'))
+>>> shows_parted(pairs, 0, bar.beginnings, bar.endings, bar.ledger)
+True
+"""
+
+KEPT = """
+>>> from rowgames.kept import kept, look_among, shows_kept
+>>> twice = Machine.having("xo", "xx")
+>>> bent = odd - twice
+>>> [look(game, bent).row, bool(look_among(game, ~twice, bent)), bool(kept(flip, ~twice))]
+['xxx', True, True]
+>>> [kept(flip, twice).row, kept(flip, twice).move, shows_kept(flip, ~twice, kept(flip, ~twice).table[::-1])]
+['xx', (0, 0), True]
+>>> look_among(game, twice, bent)
+raises NotKept('xx')
+"""
+
+WORD_FOR_WORD = (SIGNS, BOOKS, ROWS, MACHINES, GAMES, LEDGERS, IMAGES, STANDS, LOOKERS, PARTED, KEPT)
 
 
 class TestExamples(Case):
     def test_each_after_the_other(self):
         transcript = Transcript(self)
-        for text in WORD_FOR_WORD + (PLAIN,):
+        for text in WORD_FOR_WORD:
             transcript.run(text)
 
     def test_what_stands_behind_the_examples(self):
         transcript = Transcript(self)
-        for text in (SIGNS, BOOKS, MACHINES, GAMES, PLAIN):
+        for text in WORD_FOR_WORD:
             transcript.run(text)
         names = transcript.names
         self.same([names["even"][""], names["one"][""]], [True, False])
-        self.same(len(names["met"](names["game"], "xxxx")), 16)
+        game, bar = names["game"], names["bar"]
+        self.same(len(names["met"](game, "xxxx")), 16)
+        self.assertNotIn(("oo", 0), {("ox", 0): (True, (1, 0))})
+        self.same([bool(names["stuck"](names["flip"])["xox"]), game.longest], [False, 1])
+        self.same(names["look"](game, names["none"], most=4).row, "x")
+        won = names["is_won"]
+        self.same([won(names["pairs"], row) for row in ("x", "o", "xx", "xxx", "x" * 5)], [False, False, True, True, False])
+        self.same([bar.ledger["xx", 0][0], bar.ledger["xxx", 0][0], bar.ledger["xxxxx", 0][0]], [True, True, False])
 
     @unittest.skipUnless(os.path.exists(DOC), "the document is not here")
     def test_word_for_word(self):

@@ -30,7 +30,7 @@ class TestMaking(Case):
 
     def test_attributes(self):
         for game in GAMES:
-            self.assertEqual(sorted(vars(game)), ["books", "goal", "last", "longest", "seats", "weights"])
+            self.assertLessEqual({"books", "goal", "last", "seats", "weights"}, set(vars(game)))
             self.assertIsInstance(game.books, tuple)
             self.assertEqual(game.weights, XO)
             self.same(game.longest, 3)
@@ -47,6 +47,7 @@ class TestMaking(Case):
         self.assertIs(GAMES[4].books[1], FLIP)
 
     def test_longest(self):
+        self.assertIsInstance(vars(Game)["longest"], property)
         self.same([Shared(FLIP).longest, Shared(Book(XO)).longest, Some(FLIP, ODD).longest], [1, 0, 1])
         self.same([Sides(FLIP, LONG).longest, Sides(LONG, FLIP).longest, Sides(Book(XO), FLIP).longest], [3, 3, 1])
 

@@ -56,7 +56,7 @@ class TestLanguage(unittest.TestCase):
     def test_generators(self):
         generators, found = language.check_generators(self.files)
         self.assertEqual(found, [])
-        self.assertEqual(generators, {"rows", "places", "moves"})
+        self.assertEqual(generators, {"rows", "places", "moves", "walk", "stands", "within", "sizes"})
         self.clean(language.check_iterated, generators)
         self.clean(language.check_changed_in_loops)
 

@@ -15,7 +15,7 @@ class TestMaking(Case):
         self.same(XO.pairs, (("x", 1), ("o", 0)))
         self.same(FOUR.signs, "bazq")
         self.assertEqual([len(XO), len(FOUR), len(Weights(("x", 0)))], [2, 4, 1])
-        self.assertIn("signs", vars(XO))
+        self.assertIsInstance(vars(Weights)["signs"], property)
         self.assertIn("pairs", vars(XO))
 
     def test_many(self):
