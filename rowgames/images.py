@@ -52,5 +52,6 @@ def within(game, *, most=2000):
 def surveyed(game, machines, most):
     """The ground of a game and machines, all stands, and the steps of the machine that they are."""
     ground = Ground(game, machines)
-    table = [pair[0] for pair, _ in walk(ground, Machine.every(ground.letters), most)]
+    among = Machine.every(ground.letters)
+    table = [pair[0] for pair, _ in walk(ground, among, most)]
     return ground, table, drawn(ground, table)

@@ -75,8 +75,9 @@ def kept(book, machine, *, most=2000):
     if machine.signs != book.weights.signs:
         raise OtherSigns("machine")
     ground = Ground(Shared(book), (machine,))
+    among = Machine.every(machine.signs)
     table = []
-    for pair, row in walk(ground, Machine.every(machine.signs), most):
+    for pair, row in walk(ground, among, most):
         if not is_keeping(ground, pair[0]):
             return Leaves(row, move_out(book, machine, row))
         table.append(pair[0])

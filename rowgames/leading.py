@@ -5,23 +5,31 @@ class Leads:
     """The rows behind the moves by some rules, in no promised order.
 
     Plays lead to many rows that share a half. So what moves make of a half is found once and
-    kept; only moves over the middle, and those that are bound to an end, are found row by row.
+    kept, and likewise what they make of the few signs around the middle. Only rules that are
+    bound to an end are tried row by row.
     """
 
     def __init__(self, pairs, rules):
         self.pairs = pairs
         self.loose = [(rule.old, rule.new) for rule in rules if not rule.left and not rule.right]
         self.tied = [rule for rule in rules if rule.left or rule.right]
+        # How far a stretch over the middle reaches to one side of it.
+        self.reach = max([len(old) for old, _ in self.loose], default=1) - 1
         self.halves = {}
+        self.bridges = {}
 
     def half(self, text):
         """The weight of a text, and the texts that loose rules make of it."""
         if text not in self.halves:
-            made = []
-            for old, new in self.loose:
-                made.extend(changed(text, old, new, 0, len(text)))
-            self.halves[text] = (sum([weight * text.count(sign) for sign, weight in self.pairs]), made)
+            weight = sum([weight * text.count(sign) for sign, weight in self.pairs])
+            self.halves[text] = (weight, changed(self.loose, text, None))
         return self.halves[text]
+
+    def bridge(self, head, tail):
+        """The texts that loose rules make of a head and a tail by old stretches that go over both."""
+        if (head, tail) not in self.bridges:
+            self.bridges[(head, tail)] = changed(self.loose, head + tail, len(head))
+        return self.bridges[(head, tail)]
 
     def looked_up(self, row):
         """The weight of a row, and the rows behind its moves, with repetitions."""
@@ -31,28 +39,25 @@ class Leads:
         weight, heads = self.half(head)
         further, tails = self.half(tail)
         found = [other + tail for other in heads] + [head + other for other in tails]
-        for old, new in self.loose:
-            reach = len(old) - 1
-            if reach > 0:
-                found.extend(changed(row, old, new, max(0, middle - reach), middle + reach))
+        if self.reach > 0:
+            start = max(0, middle - self.reach)
+            bridges = self.bridge(row[start:middle], row[middle:middle + self.reach])
+            found.extend([row[:start] + other + row[middle + self.reach:] for other in bridges])
         for rule in self.tied:
-            found.extend(changed_at_ends(row, rule))
+            place = 0 if rule.left else len(row) - len(rule.old)
+            if rule.fits(row, place):
+                found.append(row[:place] + rule.new + row[place + len(rule.old):])
         return weight + further, found
 
 
-def changed(row, old, new, start, end):
-    """What a row becomes if an old stretch between start and end is changed, for each place."""
+def changed(rules, text, middle):
+    """What a text becomes by each rule at each place; only over the middle if it is not None."""
     found = []
-    place = row.find(old, start, end)
-    while place >= 0:
-        found.append(row[:place] + new + row[place + len(old):])
-        place = row.find(old, place + 1, end)
+    for old, new in rules:
+        place = text.find(old)
+        while place >= 0:
+            end = place + len(old)
+            if middle is None or place < middle < end:
+                found.append(text[:place] + new + text[end:])
+            place = text.find(old, place + 1)
     return found
-
-
-def changed_at_ends(row, rule):
-    """What a row becomes by a rule that is bound to an end: one row, or none."""
-    place = 0 if rule.left else len(row) - len(rule.old)
-    if not rule.fits(row, place):
-        return []
-    return [row[:place] + rule.new + row[place + len(rule.old):]]

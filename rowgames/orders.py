@@ -17,7 +17,7 @@ def in_order(signs, rows):
 def positions_in_order(signs, met, levels):
     """The positions of all seats, whose rows are given by weight, by their rows, then by seat."""
     positions = []
-    for weight in sorted([int(weight) for weight in levels]):
+    for weight in sorted([int(key) for key in levels]):
         rows = in_order(signs, list(levels[weight]))
         positions.extend([(row, seat) for row in rows for seat in range(len(met)) if row in met[seat]])
     return positions

@@ -56,7 +56,7 @@ class Plays:
 
     def judge_met(self, met, levels):
         """Judges all met positions, the lightest rows first: moves lead to lighter ones."""
-        for weight in sorted([int(weight) for weight in levels]):
+        for weight in sorted([int(key) for key in levels]):
             for seat, behind in enumerate(met):
                 won = self.won[seat]
                 judged = self.won[self.game.judge(seat)]

@@ -86,7 +86,9 @@ class Search:
             for row in (members[at] + ending, members[further] + ending):
                 # What is in it has all positions behind it in it, too.
                 if (row, seat) not in ledger:
-                    ledger.update(entries_from(self.plays, row, seat))
+                    entries = entries_from(self.plays, row, seat)
+                    for position, entry in entries.items():
+                        ledger[position] = entry
         return ledger
 
     def shown(self):

@@ -33,5 +33,6 @@ def passes(game, machines, stand, seat):
 def stands(game, machines, *, most=2000):
     """Each stand that a row has, with the first such row, in the order of these rows."""
     ground = Ground(game, list(machines))
-    for pair, row in walk(ground, Machine.every(ground.letters), most):
+    among = Machine.every(ground.letters)
+    for pair, row in walk(ground, among, most):
         yield pair[0], row

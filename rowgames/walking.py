@@ -10,12 +10,12 @@ def walk(ground, among, most):
     one of its own pair: so it is enough to go on from first rows. What is to come is kept by
     weight and by length, and there by the indexes of the signs, which are in order as texts are.
     """
-    weights = [weight for _, weight in ground.game.weights.pairs]
+    weights = [pair[1] for pair in ground.game.weights.pairs]
     waiting = {0: {0: {"": ("", (ground.first(), 0))}}}
     seen = {}
     while waiting:
-        weight = min([int(weight) for weight in waiting])
-        length = min([int(length) for length in waiting[weight]])
+        weight = min([int(key) for key in waiting])
+        length = min([int(key) for key in waiting[weight]])
         nearest = taken_out(waiting, weight, length)
         for marks in sorted(list(nearest), key=str):
             row, pair = nearest[marks]
