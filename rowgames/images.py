@@ -42,7 +42,7 @@ def within(game, *, most=2000):
     book = game.book_of(0)
     ahead = None
     nearer = game.goal.least()
-    while ahead is None or nearer != ahead:
+    while nearer != ahead:
         yield nearer
         ahead = nearer
         nearer = game.goal | led_into(book, ahead, most=most)

@@ -92,10 +92,8 @@ def is_keeping(ground, stand):
 def move_out(book, machine, row):
     """The first move from a row to one that a machine does not tell."""
     rules = book.rules
-    for move in moves_from(rules, row):
-        if not machine[row_of_move(rules, row, move)]:
-            return move
-    return None
+    moves = [move for move in moves_from(rules, row) if not machine[row_of_move(rules, row, move)]]
+    return moves[0]
 
 
 def shows_kept(book, machine, table):

@@ -1,5 +1,7 @@
 """Leading: the rows to which moves lead, found as fast as plain play needs them."""
 
+from rowgames.letters import weigh
+
 
 class Leads:
     """The rows behind the moves by some rules, in no promised order.
@@ -21,8 +23,7 @@ class Leads:
     def half(self, text):
         """The weight of a text, and the texts that loose rules make of it."""
         if text not in self.halves:
-            weight = sum([weight * text.count(sign) for sign, weight in self.pairs])
-            self.halves[text] = (weight, changed(self.loose, text, None))
+            self.halves[text] = (weigh(self.pairs, text), changed(self.loose, text, None))
         return self.halves[text]
 
     def bridge(self, head, tail):

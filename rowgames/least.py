@@ -51,7 +51,7 @@ def least(game, most, *, rows=2000, stands=2000):
             return Parted(seat, tuple(search.members[seat]), endings, search.ledger_of_parting(seat, endings))
         found = search.looked(stands)
         if found:
-            members, endings = search.shown()
+            members, endings = search.members_and_endings()
             return Least(found.machines, found.table, members, endings)
 
 

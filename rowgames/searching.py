@@ -91,7 +91,7 @@ class Search:
                         ledger[position] = entry
         return ledger
 
-    def shown(self):
+    def members_and_endings(self):
         """The members of each seat, and the endings that part them."""
         members = tuple([tuple(rows) for rows in self.members])
         return members, tuple([self.parting(seat) for seat in range(self.game.seats)])

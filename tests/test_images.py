@@ -181,6 +181,17 @@ class TestWithin(ImageCase):
         self.same(next(found), ODD)
         self.raises(TooMany("stands", many - 1), lambda: next(found))
 
+    def test_the_bound_that_is_not_told(self):
+        goal = Machine.modulo("xo", "x", 60) | Machine.modulo("xo", "o", 59)
+        found = within(Some(NO_RULES, goal))
+        self.same(next(found), goal)
+        self.raises(TooMany("stands", 2000), lambda: next(found))
+        self.same(list(within(Some(NO_RULES, goal), most=3541)), [goal, goal])
+        goal = Machine.modulo("xo", "x", 40) | Machine.modulo("xo", "o", 49)
+        many = len(list(stands(Shared(NO_RULES), [goal])))
+        self.assertEqual(many, 1961)
+        self.same(list(within(Some(NO_RULES, goal))), [goal, goal])
+
     def test_too_many_later(self):
         most = len(list(stands(SHARED, [stuck(FLIP)])))
         found = within(Some(FLIP, stuck(FLIP)), most=most)

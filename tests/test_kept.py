@@ -434,7 +434,10 @@ class TestShowsWrongAmong(ShowCase):
                 self.same(self.wrong(game, among, machines, told.row, told.seat, left, told.kept), False)
                 twice = told.bounds + told.bounds[at:at + 1]
                 self.same(self.wrong(game, among, machines, told.row, told.seat, twice, told.kept), False)
-            for bounds in (list(told.bounds), None, told.bounds + (None,),
+            extra = ((stand_at(game, machines, ""), 0), told.row)
+            for bounds in (list(told.bounds), None, told.bounds + (None,), told.bounds[1:] + (extra + (0,),),
+                           told.bounds[1:] + (extra[:1],), told.bounds[1:] + (list(extra),),
+                           told.bounds[1:] + ((extra[0] + (0,), told.row),),
                            told.bounds + ((stand_at(game, machines, ""), "x"),)):
                 self.same(self.wrong(game, among, machines, told.row, told.seat, bounds, told.kept), False)
             for tables in ((), told.kept + told.kept[:1], (told.kept[0][1:],) + told.kept[1:], None, {}):

@@ -18,6 +18,15 @@ WRONG = look(SHARED, NONE)
 OR = Machine.having("xo", "x")
 
 
+def with_next(game, machines, stands, further):
+    """A table of stands with a further one and all that come behind it."""
+    found = list(stands) + [further] * (further not in stands)
+    for stand in found:
+        found += [more for more in [next_stand(game, machines, stand, sign) for sign in game.weights.signs]
+                  if more not in found]
+    return tuple(found)
+
+
 class ShowCase(Case):
     def right(self, game, machines, table):
         found = shows_right(game, machines, table)
@@ -107,8 +116,44 @@ class TestShowsRight(ShowCase):
             for value in values:
                 other = extra[:at] + (value,) + extra[at + 1:]
                 self.same(self.right(goal, [NONE], table + (other,)), False)
+                self.same(self.right(goal, [NONE], table + (extra, other)), False)
         for other in (extra[:4], extra + (0,), list(extra), extra[1:], ()):
             self.same(self.right(goal, [NONE], table + (other,)), False)
+            self.same(self.right(goal, [NONE], table + (extra, other)), False)
+
+    def test_things_that_are_closed_and_pass_but_for_their_form(self):
+        goal = Some(NO_RULES, NONE)
+        table = look(goal, NONE).table
+        good = (False, (0,), "", ((0,),), 0)
+        self.same(self.right(goal, [NONE], with_next(goal, [NONE], table, good)), True)
+        for bad in ((False, (-1,), "", ((0,),), 0), (False, (0,), "", ((-1,),), 0), (False, (0,), "", ((0,),), -1),
+                    (True, (0,), "x", ((0,),), 0), (False, (0,), "x", ((0,),), 0), (False, (False,), "", ((0,),), 0),
+                    (False, (0,), "", ((0,),), False), (False, (0,), "", ((False,),), 0), (0, (0,), "", ((0,),), 0)):
+            self.same(self.right(goal, [NONE], with_next(goal, [NONE], table, bad)), False)
+        pair = Some(Book(XO, Rule("xx", "")), NONE)
+        table = look(pair, NONE).table
+        for tail, fresh, wanted in (("x", True, True), ("xo", True, True), ("xo", False, True), ("x", False, False),
+                                    ("", False, False), ("xox", True, False), ("xox", False, False)):
+            stand = (fresh, (0,), tail, ((0,),), 0)
+            self.same(self.right(pair, [NONE], with_next(pair, [NONE], table, stand)), wanted)
+
+    def test_states_of_each_machine(self):
+        sides = Sides(NO_RULES, NO_RULES)
+        wide = Machine("xo", ((0, 0), (1, 1), (1, 1)), (False, False, False))
+        for machines in ((NONE, wide), (wide, NONE)):
+            table = look(sides, *machines).table
+            for back in ((0, 0), (0, 1), (1, 0), (1, 1), (2, 0), (0, 2), (0, 3), (3, 0), (-1, 0), (0, -1)):
+                stand = (False, back, "", ((), ()), None)
+                good = all(0 <= state < len(machine) for state, machine in zip(back, machines))
+                if good:
+                    closed = with_next(sides, machines, table, stand)
+                    self.same(self.right(sides, machines, tuple({one: 0 for one in closed})), True)
+                else:
+                    following = [(False, (one, two), "", ((), ()), None) for one in range(len(machines[0]))
+                                 for two in range(len(machines[1]))]
+                    closed = tuple({one: 0 for one in table + tuple(following)})
+                    self.same(self.right(sides, machines, closed), True)
+                    self.same(self.right(sides, machines, closed + (stand,)), False)
 
     def test_the_form_of_tails(self):
         game = Some(Book(XO, Rule("xx", "o")), Machine.every("xo"))
@@ -277,6 +322,9 @@ class TestShowsWrong(ShowCase):
             self.same(self.wrong(SHARED, [NONE], "x", 0, (fresh, bad, oo)), False)
             self.same(self.wrong(SHARED, [NONE], "x", 0, WRONG.bounds + (bad,)), False)
         self.same(self.wrong(SHARED, [NONE], "x", 0, list(WRONG.bounds)), False)
+        for stand, wanted in (((True, (0,), "x", ((0,),), None), True), ((True, (0,), "xx", ((0,),), None), False),
+                              ((False, (0,), "xx", ((0,),), None), False), ((False, (0,), "", ((0,),), None), False)):
+            self.same(self.wrong(SHARED, [NONE], "x", 0, WRONG.bounds + ((stand, "xx"),)), wanted)
 
     def test_right_machines(self):
         pairs = tuple((stand, row) for stand, row in zip(TABLE, ["", "o", "oo", "x", "xo", "ox", "xx", "xxo"]))
