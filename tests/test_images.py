@@ -8,7 +8,6 @@ from rowgames.games import Every, Shared, Sides, Some
 from rowgames.images import image, led_into, stuck, within
 from rowgames.machines import Machine
 from rowgames.rules import Rule
-from rowgames.signs import Weights
 from rowgames.stands import stands
 from helpers import FLIP, ODD, SHARED, XO, Case, values_but
 from oracle import (ABC, LEFT, LONG, NO_RULES, RIGHT, all_games, behind, equation, machines_of, moves_of, rows_up_to,

@@ -8,33 +8,16 @@ from rowgames.games import Every, Shared, Sides, Some
 from rowgames.machines import Machine
 from rowgames.plain import is_won, met
 from rowgames.rules import Rule
-from rowgames.signs import Weights
 from helpers import FLIP, ODD, SHARED, Case, odd_values, values_but
+from oracle import ABC, GOAL, LEFT, RIGHT, all_games, moves_of, positions_of
 
-ABC = Weights(("b", 3), ("a", 1), ("c", 0))
-LEFT = [Rule("b", "aa"), Rule("ab", "cb", left=True), Rule("aa", ""), Rule("cab", "b", right=True)]
-RIGHT = [Rule("b", "ca"), Rule("a", "", right=True), Rule("ba", "ac"), Rule("bab", "cc", left=True, right=True)]
-GOAL = Machine.modulo("bac", "a", 2) - Machine.having("bac", "aca")
 ROWS = ["".join(row) for length in range(5) for row in itertools.product("bac", repeat=length)]
 ROWS = ROWS[::3] + ["babab", "aabbc", "cabcab", "bbbb", "abcabc"]
 
 
-def rows_behind(rules, row):
-    """The rows to which the rules lead, told by cutting the row at each place."""
-    rows = []
-    for rule in rules:
-        for place in range(len(row)):
-            head, tail = row[:place], row[place:]
-            if tail.startswith(rule.old):
-                rest = tail[len(rule.old):]
-                if not (rule.left and head) and not (rule.right and rest):
-                    rows.append(head + rule.new + rest)
-    return rows
-
-
 def plays_from(rules, row):
     """All plays of one player, each a list of rows up to a finished one."""
-    behind = rows_behind(rules, row)
+    behind = [led for _, led in moves_of(rules, row)]
     if not behind:
         return [[row]]
     return [[row] + play for led in behind for play in plays_from(rules, led)]
@@ -43,31 +26,15 @@ def plays_from(rules, row):
 def ends_of(books, row, seat, memo):
     """Whether the player who is to move wins; memo["stuck"] tells whether who cannot move does."""
     if (row, seat) not in memo:
-        led = rows_behind(books[seat], row)
+        led = [one for _, one in moves_of(books[seat], row)]
         other = len(books) - 1 - seat
         memo[row, seat] = any([not ends_of(books, one, other, memo) for one in led]) if led else memo["stuck"]
     return memo[row, seat]
 
 
-def positions(books, row, seat):
-    """The set of all positions that plays meet."""
-    found, waiting = {(row, seat)}, [(row, seat)]
-    while waiting:
-        row, seat = waiting.pop()
-        for led in rows_behind(books[seat], row):
-            position = (led, len(books) - 1 - seat)
-            if position not in found:
-                found.add(position)
-                waiting.append(position)
-    return found
-
-
-def all_games():
+def told_games():
     """Each kind of game, both endings of a duel, with the rules of its seats."""
-    one, two = Book(ABC, *LEFT), Book(ABC, *RIGHT)
-    return [(Some(one, GOAL), [LEFT]), (Every(one, GOAL), [LEFT]), (Shared(one), [LEFT]),
-            (Shared(two, last=False), [RIGHT]), (Sides(one, two), [LEFT, RIGHT]),
-            (Sides(two, one, last=False), [RIGHT, LEFT])]
+    return list(zip(all_games(), [[LEFT], [LEFT], [LEFT], [RIGHT], [LEFT, RIGHT], [RIGHT, LEFT]]))
 
 
 def sorted_positions(found):
@@ -76,10 +43,10 @@ def sorted_positions(found):
 
 class TestMet(Case):
     def test_against_all_plays(self):
-        for game, books in all_games():
+        for game, books in told_games():
             for row in ROWS:
                 for seat in range(game.seats):
-                    self.same(met(game, row, seat), sorted_positions(positions(books, row, seat)))
+                    self.same(met(game, row, seat), sorted_positions(positions_of(game, row, seat)))
 
     def test_the_order_of_rows_and_seats(self):
         self.same(met(SHARED, "xx"), [("oo", 0), ("xo", 0), ("ox", 0), ("xx", 0)])
@@ -109,14 +76,14 @@ class TestMet(Case):
 
 class TestIsWon(Case):
     def test_games_alone(self):
-        (some, _), (every, _) = all_games()[:2]
+        (some, _), (every, _) = told_games()[:2]
         for row in ROWS:
             plays = plays_from(LEFT, row)
             self.same(is_won(some, row), any([GOAL[one] for play in plays for one in play]))
             self.same(is_won(every, row), all([GOAL[play[-1]] for play in plays]))
 
     def test_duels(self):
-        for game, books in all_games()[2:]:
+        for game, books in told_games()[2:]:
             memo = {"stuck": not game.last}
             answers = []
             for row in ROWS:
@@ -145,7 +112,7 @@ class TestIsWon(Case):
 
 class TestErrors(Case):
     def test_the_seat_comes_first(self):
-        for game, _ in all_games():
+        for game, _ in told_games():
             for ask in (met, is_won):
                 for value in values_but(0, 1) + [-1, 2]:
                     for row in ("bab", "q", None):
@@ -154,7 +121,7 @@ class TestErrors(Case):
                     self.raises(BadSeat(1), ask, game, "q", 1)
 
     def test_then_the_row(self):
-        for game, _ in all_games():
+        for game, _ in told_games():
             for ask in (met, is_won):
                 for value in odd_values():
                     if not isinstance(value, str):
@@ -162,10 +129,10 @@ class TestErrors(Case):
                 self.raises(BadRow(2), ask, game, "bbq", most=1)
 
     def test_too_many(self):
-        for game, books in all_games():
+        for game, books in told_games():
             for row in ("babab", "cabcab"):
                 for seat in range(game.seats):
-                    many = len(positions(books, row, seat))
+                    many = len(positions_of(game, row, seat))
                     self.assertGreater(many, 5)
                     for ask in (met, is_won):
                         for most in (1, 2, many - 1):
