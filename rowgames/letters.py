@@ -10,6 +10,11 @@ def is_integer(value):
     return isinstance(value, int) and not isinstance(value, bool)
 
 
+def is_natural(value):
+    """Whether any value is an integer from 0."""
+    return is_integer(value) and value >= 0
+
+
 def is_from_to(value, low, high):
     """Whether any value is an integer from low to high."""
     return is_integer(value) and low <= value <= high

@@ -334,8 +334,10 @@ def check_statements(file):
             found.append(file.says(node, "a value of another kind"))
         if isinstance(node, ast.Constant) and isinstance(node.value, str) and "%" in node.value:
             found.append(file.says(node, "a percent sign"))
-        if isinstance(node, ast.BinOp) and isinstance(node.op, (ast.Div, ast.MatMult, ast.Pow)):
+        if isinstance(node, ast.BinOp) and isinstance(node.op, (ast.Div, ast.MatMult)):
             found.append(file.says(node, "a sign that is not needed"))
+        if isinstance(node, ast.BinOp) and isinstance(node.op, ast.Pow):
+            found += check_power(file, node)
         if isinstance(node, ast.AugAssign):
             found.append(file.says(node, "an assignment in place"))
         if isinstance(node, ast.Compare):
@@ -350,6 +352,16 @@ def check_statements(file):
         if isinstance(node, ast.Starred) and not isinstance(node.value, (ast.Name, ast.Attribute)):
             found.append(file.says(node, "a star before what is no name"))
     return found
+
+
+def check_power(file, node):
+    """L3, L27: in functions, an exponent that is written out."""
+    above = node
+    while not isinstance(above, SCOPES + (ast.Module,)):
+        above = above.above
+    if isinstance(node.right, ast.Constant) and 0 <= node.right.value <= 64 and isinstance(above, ast.FunctionDef):
+        return []
+    return [file.says(node, "an exponent that is not written out")]
 
 
 def check_is(file, node):
@@ -438,6 +450,7 @@ def check_iterated(file, generators):
             continue
         above = node.above
         looped = isinstance(above, (ast.For, ast.comprehension)) and above.iter is node
+        looped = looped or isinstance(above, ast.YieldFrom)
         taken = isinstance(above, ast.Call) and isinstance(above.func, ast.Name) and above.func.id in TAKING
         if not looped and not taken:
             found.append(file.says(node, f"{name} is not iterated at once"))

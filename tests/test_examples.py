@@ -177,7 +177,44 @@ KEPT = """
 raises NotKept('xx')
 """
 
-WORD_FOR_WORD = (SIGNS, BOOKS, ROWS, MACHINES, GAMES, LEDGERS, IMAGES, STANDS, LOOKERS, PARTED, KEPT)
+COMPARE = """
+>>> from rowgames.compare import alike, fewest, needless, outcomes
+>>> found = alike(game, [odd], Shared(flip + Rule("xx", "oo")))
+>>> [bool(found), found.row, found.seat]
+[False, 'xx', 0]
+>>> wide = Shared(Book(Weights(("x", 1), ("o", 0), ("p", 0)), Rule("x", "o"), Rule("x", "p")))
+>>> three = [Machine("xop", ((1, 0, 0), (0, 1, 1)), (False, True))]
+>>> [needless(wide, three), fewest(wide, three).choice, fewest(wide, three).reasons]
+[((0, 0), (0, 1)), ((0,),), [(((),), 'x', 0)]]
+>>> told = outcomes(sides, [Machine.none("xoz"), Machine.having("xoz", "o")])
+>>> [told[word].first() for word in ("left", "right", "first", "second")]
+[None, 'o', None, '']
+>>> alike(game, [~odd], game)
+raises NotRight('', 0)
+"""
+
+PLAYERS = """
+>>> from rowgames.players import Leftmost, Numbered, Perfect, Seer, contest, winner
+>>> perfect = Perfect(game, odd)
+>>> list(contest(game, "xxx", perfect, Leftmost(game)))
+[(0, (0, 0), 'oxx'), (1, (1, 0), 'oox'), (0, (2, 0), 'ooo')]
+>>> [winner(game, "xxx", perfect, Numbered(game, 1)), winner(game, "xx", Leftmost(game), perfect)]
+[0, 1]
+>>> [perfect.winning("oxx" * 3), list(Seer(game, odd).all_winning("oxxx"))]
+[None, [(1, 0), (2, 0), (3, 0)]]
+"""
+
+WAYS = """
+>>> from rowgames.ways import shows_way, way
+>>> bare = Some(flip, ~Machine.having("xo", "x"))
+>>> [way(bare, Machine.every("xo"), "xox"), shows_way(bare, "xox", [(2, 0), (0, 0)]), shows_way(bare, "xox", [(2, 0)])]
+[[(0, 0), (2, 0)], True, False]
+>>> way(bare, Machine.none("xo"), "x")
+raises NotWon('x')
+"""
+
+WORD_FOR_WORD = (SIGNS, BOOKS, ROWS, MACHINES, GAMES, LEDGERS, IMAGES, STANDS, LOOKERS, PARTED, KEPT, COMPARE, PLAYERS,
+                 WAYS)
 
 
 class TestExamples(Case):

@@ -56,7 +56,8 @@ class TestLanguage(unittest.TestCase):
     def test_generators(self):
         generators, found = language.check_generators(self.files)
         self.assertEqual(found, [])
-        self.assertEqual(generators, {"rows", "places", "moves", "walk", "stands", "within", "sizes"})
+        self.assertEqual(generators, {"rows", "places", "moves", "walk", "stands", "within", "sizes", "all_winning",
+                                      "contest", "turns"})
         self.clean(language.check_iterated, generators)
         self.clean(language.check_changed_in_loops)
 
