@@ -26,11 +26,9 @@ class Rule:
     @classmethod
     def read(cls, text):
         """The rule with this text, as str gives it."""
-        if not isinstance(text, str):
+        if not is_text_of_rule(text):
             raise BadText(0, 0)
-        old, arrow, new = text.removeprefix("[").removesuffix("]").partition(">")
-        if arrow == "" or not are_letters(old, 1, cls.LONGEST) or not are_letters(new, 0, cls.LONGEST):
-            raise BadText(0, 0)
+        old, _, new = parts_of_text(text)
         return cls(old, new, left=text.startswith("["), right=text.endswith("]"))
 
     def __str__(self):
@@ -76,3 +74,16 @@ class Rule:
 
     def __rmul__(self, other):
         return self * other
+
+
+def parts_of_text(text):
+    """The old stretch, the arrow and the new stretch of a text, without the marks of the ends."""
+    return text.removeprefix("[").removesuffix("]").partition(">")
+
+
+def is_text_of_rule(value):
+    """Whether any value is the text of a rule."""
+    if not isinstance(value, str):
+        return False
+    old, arrow, new = parts_of_text(value)
+    return arrow == ">" and are_letters(old, 1, Rule.LONGEST) and are_letters(new, 0, Rule.LONGEST)

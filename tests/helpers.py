@@ -6,11 +6,18 @@ import unittest
 
 import rowgames.errors
 from rowgames.books import Book
+from rowgames.compare import alike, fewest
+from rowgames.desk import Desk
 from rowgames.games import Every, Shared, Sides, Some
+from rowgames.kept import kept, look_among
+from rowgames.least import least
+from rowgames.lengths import Lengths
 from rowgames.machines import Machine
+from rowgames.players import Leftmost, Numbered, Perfect
 from rowgames.rows import Row
 from rowgames.rules import Rule
 from rowgames.signs import Weights
+from rowgames.tables import look
 
 ROOT = os.path.dirname(os.path.dirname(os.path.abspath(__file__)))
 PACKAGE = os.path.join(ROOT, "rowgames")
@@ -20,6 +27,7 @@ XO = Weights(("x", 1), ("o", 0))
 FLIP = Book(XO, Rule("x", "o"))
 ODD = Machine("xo", ((1, 0), (0, 1)), (False, True))
 SHARED = Shared(FLIP)
+EVERY = Machine.every("xo")
 
 
 def nested(depth):
@@ -32,7 +40,11 @@ def nested(depth):
 
 def package_objects():
     """An object of each kind that the package has."""
-    return [XO, FLIP[0], FLIP, Row(FLIP, "x"), ODD, SHARED, Sides(FLIP, FLIP), Some(FLIP, ODD), Every(FLIP, ODD)]
+    games = [SHARED, Sides(FLIP, FLIP), Some(FLIP, ODD), Every(FLIP, ODD)]
+    looks = [look(SHARED, ODD), look(SHARED, ~ODD), look_among(SHARED, EVERY, ODD), kept(FLIP, ~ODD)]
+    found = [least(SHARED, 1), least(SHARED, 2), alike(SHARED, [ODD], SHARED), fewest(SHARED, [ODD])]
+    others = [Leftmost(SHARED), Numbered(SHARED, 1), Perfect(SHARED, ODD), Lengths(0, 2, [True, False]), Desk()]
+    return [XO, FLIP[0], FLIP, Row(FLIP, "x"), ODD] + games + looks + found + others
 
 
 def odd_values():

@@ -202,9 +202,11 @@ def check_module_level(file):
         elif isinstance(node, (ast.FunctionDef, ast.ClassDef)):
             bound.append(node.name)
         elif isinstance(node, ast.Assign) and len(node.targets) == 1 and isinstance(node.targets[0], ast.Name):
-            bound.append(node.targets[0].id)
-            if not is_plain(node.value):
+            if not is_plain(node.value) and not is_table(node.value, bound):
                 found.append(file.says(node, "a value that is not plain"))
+            bound.append(node.targets[0].id)
+            if isinstance(node.value, ast.Dict):
+                found += check_table_read(file, node.targets[0].id)
         elif not (at == 0 and is_docstring(node)):
             found.append(file.says(node, "this does not stand at module level"))
     found += [f"{file.name}: {name} is bound twice" for name in set(bound) if bound.count(name) > 1]
@@ -215,6 +217,27 @@ def check_module_level(file):
     taken |= {node.name for node in file.nodes(ast.ClassDef)}
     for function in functions_of(file):
         found += [file.says(function, f"{name} is a class or an import") for name in bound_in(function) & taken]
+    return found
+
+
+def is_table(node, bound):
+    """Whether a value is a dict of plain values and of functions that are defined above it."""
+    if not isinstance(node, ast.Dict) or not all(isinstance(key, ast.Constant) for key in node.keys):
+        return False
+    return all(is_plain(one) or (isinstance(one, ast.Name) and one.id in bound) for one in node.values)
+
+
+def check_table_read(file, name):
+    """L3, L15: a table at module level is only indexed and tested by in; what comes of it is given a name first."""
+    found = []
+    for node in file.nodes(ast.Name):
+        if node.id != name or isinstance(node.ctx, ast.Store):
+            continue
+        above = node.above
+        indexed = isinstance(above, ast.Subscript) and above.value is node and isinstance(above.above, ast.Assign)
+        tested = isinstance(above, ast.Compare) and isinstance(above.ops[0], (ast.In, ast.NotIn))
+        if not indexed and not tested:
+            found.append(file.says(node, f"{name} is not only read"))
     return found
 
 

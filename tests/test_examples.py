@@ -213,8 +213,67 @@ WAYS = """
 raises NotWon('x')
 """
 
+LENGTHS = """
+>>> from rowgames.counts import count, place_of, remainder, row_at
+>>> from rowgames.lengths import Lengths, lengths_of
+>>> [count(even, 3), count(even, 0), count(both, 5), remainder(even, 10 ** 18, 7)]
+[4, 1, 5, 1]
+>>> [row_at(even, k) for k in range(6)]
+['', 'o', 'xx', 'oo', 'xxo', 'xox']
+>>> [place_of(even, "oxo"), place_of(one, "xx"), row_at(Machine.just("xo", "x"), 1)]
+[7, 1, None]
+>>> told = lengths_of(both)
+>>> [told.lead, told.period, told.answers, 10 ** 17 in told, told.first(4), told.up_to(9), told.from_on()]
+[0, 2, (False, True), False, 5, 5, None]
+>>> whole = lengths_of(even, every=True)
+>>> [whole.lead, whole.period, whole.answers, (~whole).from_on(), bool(whole & told)]
+[1, 1, (True, False), 1, False]
+>>> Lengths(2, 2, [True, False, True, False]) == Lengths(0, 2, (True, False))
+True
+"""
+
+TEXTS = r"""
+>>> from rowgames.reader import read, read_book, read_game, read_ledger, read_machine
+>>> from rowgames.texts import write_book, write_game, write_ledger, write_machine
+>>> write_machine(odd).split("\n")
+['machine xo', 'not 1 0', 'told 0 1']
+>>> write_game(Some(flip, Machine("xo", ((1, 0), (1, 1)), (True, False)))).split("\n")
+['some', 'signs x 1 o 0', 'rule x>o', 'machine xo', 'told 1 0', 'not 1 1']
+>>> read_game("shared last loses\nsigns x 1 o 0\nrule x>o") == Shared(flip, last=False)
+True
+>>> write_ledger(ledger_of(game, "xo"), weights).split("\n")
+['oo 0 lost -', 'xo 0 won 0 0']
+>>> read_ledger("- 0 lost -") == {("", 0): (False, None)}
+True
+>>> read_book("signs x 1 o")
+raises BadText(0, 4)
+>>> read_machine("machine xo\nnot 1 0 0")
+raises BadText(1, 3)
+>>> read_machine("machine xo\nnot 1 0")
+raises BadMachine('steps')
+>>> read_book("signs x 1 o 0\nrule o>x")
+raises Heavier(0)
+>>> read("shared last\nsigns x 1")
+raises BadText(0, 2)
+"""
+
+DESK = """
+>>> from rowgames.desk import Desk
+>>> desk = Desk()
+>>> desk.run("signs x 1 o 0", "rule 0 x>o", "machine odd not 1 0 ; told 0 1", "game shared last wins", "look odd")
+['ok', 'ok', 'ok', 'ok', 'right 8']
+>>> desk.run("least 1", "least 2", "won xx 0", "moves xx 0", "count a 3", "keeps odd 0", "undo", "undo")
+['parted 0 - x', 'least 2', 'no', '0.0 1.0', '4', 'x 0.0', 'ok', 'ok']
+>>> [desk.game, desk.say("show machine odd"), len(desk)]
+[None, 'machine xo / not 1 0 / told 0 1', 3]
+>>> desk.say("rule 0 x")
+raises BadLine(2)
+>>> desk.say("look odd")
+raises NotThere('game')
+"""
+
 WORD_FOR_WORD = (SIGNS, BOOKS, ROWS, MACHINES, GAMES, LEDGERS, IMAGES, STANDS, LOOKERS, PARTED, KEPT, COMPARE, PLAYERS,
-                 WAYS)
+                 WAYS, LENGTHS, TEXTS, DESK)
 
 
 class TestExamples(Case):
@@ -244,3 +303,4 @@ class TestExamples(Case):
             document = file.read()
         for text in WORD_FOR_WORD:
             self.assertIn("```\n" + text.strip() + "\n```", document)
+        self.assertEqual(document.count("```\n>>> "), len(WORD_FOR_WORD))

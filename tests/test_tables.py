@@ -207,6 +207,6 @@ class TestEqual(Case):
         self.assertNotEqual(right, Right(Shared(FLIP, last=False), (ODD,), right.table))
 
     def test_other_values(self):
-        for value in values_but():
+        for value in [value for value in values_but() if not isinstance(value, Look)]:
             for found in (look(SHARED, ODD), look(SHARED, NONE)):
                 self.same([found == value, value == found, found != value], [False, False, True])
