@@ -13,6 +13,8 @@ class Game:
         self.weights = books[0].weights
         self.books = books
         self.seats = len(books)
+        # For each seat the one whose machine judges: of two seats the other one.
+        self.judges = (0,) if len(books) == 1 else (1, 0)
         self.goal = goal
         self.last = last
         self._longest = max([int(book.longest) for book in books])
@@ -30,8 +32,7 @@ class Game:
     def judge(self, seat):
         """The seat whose machine judges the rows behind the moves of a seat."""
         check_seat(self, seat)
-        # Of two seats it is the other one, of one seat this one.
-        return self.seats - 1 - seat
+        return self.judges[seat]
 
     def reads(self, is_goal, answers):
         """The right side of the equation at a row."""

@@ -1,36 +1,40 @@
 """Images: machines of the rows at which something holds of their moves. They are least."""
 
+from rowgames.ends import Ends
 from rowgames.errors import BadGame, OtherSigns
 from rowgames.games import Shared, Some
 from rowgames.machines import Machine, least_machine
-from rowgames.standing import Ground, check_machines
-from rowgames.walking import drawn, walk
+from rowgames.standing import check_machines
+from rowgames.surveying import Readings, Survey, surveyed, told_set
 
 
 def led_into(book, machine, *, most=2000):
     """The machine of the rows from which some move leads to a row that a machine tells."""
     if machine.signs != book.weights.signs:
         raise OtherSigns("machine")
-    ground, table, steps = surveyed(Shared(book), (machine,), most)
-    told = [any(ground.answers_behind(stand, 0)) for stand in table]
-    return least_machine(machine.signs, steps, told)
+    survey = survey_of(Shared(book), (machine,))
+    codes, steps = surveyed(survey, most)
+    states = told_set(machine.told, True)
+    return least_machine(machine.signs, steps, [survey.moved(code, 0) & states > 0 for code in codes])
 
 
 def stuck(book, *, most=2000):
     """The machine of the rows without a move."""
     signs = book.weights.signs
-    ground, table, steps = surveyed(Shared(book), (Machine.none(signs),), most)
-    told = [ground.answers_behind(stand, 0) == [] for stand in table]
-    return least_machine(signs, steps, told)
+    survey = survey_of(Shared(book), (Machine.none(signs),))
+    codes, steps = surveyed(survey, most)
+    return least_machine(signs, steps, [survey.moved(code, 0) == 0 for code in codes])
 
 
 def image(game, *machines, most=2000):
     """For each seat the machine of the rows at which the right side of the equation holds."""
     check_machines(game, machines)
-    ground, table, steps = surveyed(game, machines, most)
+    survey = survey_of(game, machines)
+    codes, steps = surveyed(survey, most)
+    readings = Readings(survey)
     images = []
     for seat in range(game.seats):
-        told = [ground.reads(stand, seat) for stand in table]
+        told = [readings.reads(code, seat) for code in codes]
         images.append(least_machine(game.weights.signs, steps, told))
     return tuple(images)
 
@@ -49,9 +53,6 @@ def within(game, *, most=2000):
     yield nearer
 
 
-def surveyed(game, machines, most):
-    """The ground of a game and machines, all stands, and the steps of the machine that they are."""
-    ground = Ground(game, machines)
-    among = Machine.every(ground.letters)
-    table = [pair[0] for pair, _ in walk(ground, among, most)]
-    return ground, table, drawn(ground, table)
+def survey_of(game, machines):
+    """The survey of a game and machines."""
+    return Survey(Ends(game), game, machines, None)

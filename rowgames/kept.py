@@ -1,11 +1,13 @@
 """Kept: sets of rows that no move leaves, and machines that are right at all rows of such a set."""
 
+from rowgames.ends import Ends
 from rowgames.errors import NotKept, OtherSigns
 from rowgames.games import Shared
 from rowgames.machines import Machine
 from rowgames.moving import moves_from, row_of_move
 from rowgames.showing import is_closed, is_stand, shows_first, shows_table
 from rowgames.standing import Ground, are_machines, check_machines
+from rowgames.surveying import Survey, told_set
 from rowgames.tables import Right, Wrong
 from rowgames.walking import passed_pairs, walk
 
@@ -74,14 +76,15 @@ def kept(book, machine, *, most=2000):
     """Whether the rows that a machine tells are kept by a book: a Kept or a Leaves."""
     if machine.signs != book.weights.signs:
         raise OtherSigns("machine")
-    ground = Ground(Shared(book), (machine,))
-    among = Machine.every(machine.signs)
-    table = []
-    for pair, row in walk(ground, among, most):
-        if not is_keeping(ground, pair[0]):
+    game = Shared(book)
+    survey = Survey(Ends(game), game, (machine,), None)
+    outside = told_set(machine.told, False)
+    codes = []
+    for code, row in walk(survey, most):
+        if survey.is_told(code, 0) and survey.moved(code, 0) & outside > 0:
             return Leaves(row, move_out(book, machine, row))
-        table.append(pair[0])
-    return Kept(tuple(table))
+        codes.append(code)
+    return Kept(tuple([survey.stand_of_code(code) for code in codes]))
 
 
 def is_keeping(ground, stand):
@@ -112,7 +115,7 @@ def look_among(game, among, *machines, most=2000):
         raise OtherSigns("among")
     check_machines(game, machines)
     tables = tuple([table_of_kept(book, among, most) for book in game.books])
-    passed, row, seat = passed_pairs(Ground(game, machines), among, most)
+    passed, row, seat = passed_pairs(Survey(Ends(game), game, machines, among), among, most)
     if row is None:
         return RightAmong(game, machines, tuple([pair for pair, _ in passed]), tables)
     return WrongAmong(game, machines, row, seat, tuple(passed), tables)

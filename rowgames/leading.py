@@ -7,58 +7,64 @@ class Leads:
     """The rows behind the moves by some rules, in no promised order.
 
     Plays lead to many rows that share a half. So what moves make of a half is found once and
-    kept, and likewise what they make of the few signs around the middle. Only rules that are
-    bound to an end are tried row by row.
+    kept: of the first half with as many signs behind it as an old stretch may go on there, and of
+    the second half. Only rules that are bound to an end are tried row by row.
     """
 
     def __init__(self, pairs, rules):
         self.pairs = pairs
         self.loose = [(rule.old, rule.new) for rule in rules if not rule.left and not rule.right]
-        self.tied = [rule for rule in rules if rule.left or rule.right]
-        # How far a stretch over the middle reaches to one side of it.
+        self.lefts = [(rule.old, rule.new) for rule in rules if rule.left and not rule.right]
+        self.rights = [(rule.old, rule.new) for rule in rules if rule.right and not rule.left]
+        self.wholes = [(rule.old, rule.new) for rule in rules if rule.left and rule.right]
+        self.is_tied = len(self.loose) < len(rules)
+        # How far a stretch that begins in the first half may reach over its end.
         self.reach = max([len(old) for old, _ in self.loose], default=1) - 1
-        self.halves = {}
-        self.bridges = {}
+        self.heads = {}
+        self.tails = {}
 
-    def half(self, text):
-        """The weight of a text, and the texts that loose rules make of it."""
-        if text not in self.halves:
-            self.halves[text] = (weigh(self.pairs, text), changed(self.loose, text, None))
-        return self.halves[text]
+    def head(self, text, middle):
+        """The weight ahead of the middle, and what comes of a text by moves at places ahead of it."""
+        # The length of the text tells where its middle is: so it need not be kept with it.
+        found = (weigh(self.pairs, text[:middle]), changed(self.loose, text, middle))
+        self.heads[text] = found
+        return found
 
-    def bridge(self, head, tail):
-        """The texts that loose rules make of a head and a tail by old stretches that go over both."""
-        if (head, tail) not in self.bridges:
-            self.bridges[(head, tail)] = changed(self.loose, head + tail, len(head))
-        return self.bridges[(head, tail)]
+    def tail(self, text):
+        """The weight of a text, and what comes of it by moves."""
+        found = (weigh(self.pairs, text), changed(self.loose, text, len(text)))
+        self.tails[text] = found
+        return found
 
     def looked_up(self, row):
         """The weight of a row, and the rows behind its moves, with repetitions."""
         middle = len(row) // 2
-        head = row[:middle]
-        tail = row[middle:]
-        weight, heads = self.half(head)
-        further, tails = self.half(tail)
-        found = [other + tail for other in heads] + [head + other for other in tails]
-        if self.reach > 0:
-            start = max(0, middle - self.reach)
-            bridges = self.bridge(row[start:middle], row[middle:middle + self.reach])
-            found.extend([row[:start] + other + row[middle + self.reach:] for other in bridges])
-        for rule in self.tied:
-            place = 0 if rule.left else len(row) - len(rule.old)
-            if rule.fits(row, place):
-                found.append(row[:place] + rule.new + row[place + len(rule.old):])
+        reach = middle + self.reach
+        ahead = row[:reach]
+        behind = row[middle:]
+        weight, heads = self.heads.get(ahead) or self.head(ahead, middle)
+        further, tails = self.tails.get(behind) or self.tail(behind)
+        first = row[:middle]
+        rest = row[reach:]
+        found = [other + rest for other in heads] + [first + other for other in tails]
+        if self.is_tied:
+            found = found + self.tied(row)
         return weight + further, found
+
+    def tied(self, row):
+        """The rows behind the moves by rules of the ends."""
+        found = [new + row[len(old):] for old, new in self.lefts if row.startswith(old)]
+        found.extend([row[:len(row) - len(old)] + new for old, new in self.rights if row.endswith(old)])
+        found.extend([new for old, new in self.wholes if row == old])
+        return found
 
 
 def changed(rules, text, middle):
-    """What a text becomes by each rule at each place; only over the middle if it is not None."""
+    """What a text becomes by each rule at each place ahead of a middle."""
     found = []
     for old, new in rules:
         place = text.find(old)
-        while place >= 0:
-            end = place + len(old)
-            if middle is None or place < middle < end:
-                found.append(text[:place] + new + text[end:])
+        while 0 <= place < middle:
+            found.append(text[:place] + new + text[place + len(old):])
             place = text.find(old, place + 1)
     return found

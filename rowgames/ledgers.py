@@ -16,28 +16,54 @@ from rowgames.playing import Plays, is_goal
 def ledger_of(game, row, seat=0, *, most=2000):
     """The entries of all positions to which plays lead from a position."""
     check_position(game, row, seat)
-    return entries_from(Plays(game, most), row, seat)
+    plays = Plays(game, most)
+    levels = plays.judge_from(row, seat)
+    ledger = entries_from(plays, [row], seat)
+    positions = positions_in_order(game.weights.signs, plays.rows_led, levels)
+    return {position: ledger[position] for position in positions}
 
 
-def entries_from(plays, row, seat):
-    """The entries of all positions to which plays lead: with None or the first move that fits."""
-    met, levels = plays.met_from(row, seat)
-    plays.judge_met(met, levels)
-    positions = positions_in_order(plays.game.weights.signs, met, levels)
-    return {position: entry_of(plays, position[0], position[1]) for position in positions}
+def entries_from(plays, rows, seat):
+    """The entries of all positions to which plays lead from judged rows of a seat."""
+    ledger = {}
+    for at, reached in enumerate(plays.reached_from(rows, seat)):
+        put_entries(ledger, plays, reached, at)
+    return ledger
 
 
-def entry_of(plays, row, seat):
-    """The entry of a judged position."""
+def put_entries(ledger, plays, rows, seat):
+    """Puts the entries of judged rows of a seat into a ledger: with None or the first move that fits."""
     game = plays.game
-    won = plays.won[seat][row]
-    if won == won_by_move(game) and not is_won_at_once(game, row):
-        rules = game.books[seat].rules
-        judged = plays.won[game.judge(seat)]
-        for move in moves_from(rules, row):
-            if judged[row_of_move(rules, row, move)] == answer_of_move(game):
-                return (won, move)
-    return (won, None)
+    by_move = won_by_move(game)
+    at_once = isinstance(game, Some)
+    answer = answer_of_move(game)
+    won = plays.won[seat]
+    judged = plays.won[game.judges[seat]]
+    rules = game.books[seat].rules
+    for row in rows:
+        move = None
+        if won[row] == by_move and not (at_once and plays.is_goal(row)):
+            move = first_move(rules, row, judged, answer)
+        ledger[(row, seat)] = (won[row], move)
+
+
+def first_move(rules, row, judged, answer):
+    """The first move to a row that is judged so, None if there is none."""
+    found = None
+    # Only lower places than that of the found move are of interest.
+    end = len(row)
+    for index, rule in enumerate(rules):
+        old = rule.old
+        place = row.find(old)
+        while 0 <= place < end:
+            head = row[:place]
+            tail = row[place + len(old):]
+            if (head and rule.left) or (tail and rule.right) or judged[head + rule.new + tail] != answer:
+                place = row.find(old, place + 1)
+            else:
+                found = (place, index)
+                end = place
+    return found
 
 
 def is_won_at_once(game, row):

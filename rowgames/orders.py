@@ -15,9 +15,9 @@ def in_order(signs, rows):
 
 
 def positions_in_order(signs, met, levels):
-    """The positions of all seats, whose rows are given by weight, by their rows, then by seat."""
+    """The positions of all seats by their rows, then by seat. Rows are given by seat, and by weight and seat."""
     positions = []
     for weight in sorted([int(key) for key in levels]):
-        rows = in_order(signs, list(levels[weight]))
+        rows = in_order(signs, list({row: True for rows in levels[weight] for row in rows}))
         positions.extend([(row, seat) for row in rows for seat in range(len(met)) if row in met[seat]])
     return positions

@@ -10,8 +10,8 @@ def met(game, row, seat=0, *, most=2000):
     """The positions to which plays lead from a position, by the order of rows, then by seat."""
     check_position(game, row, seat)
     plays = Plays(game, most)
-    behind, levels = plays.met_from(row, seat)
-    return positions_in_order(game.weights.signs, behind, levels)
+    levels, _ = plays.meet(row, seat)
+    return positions_in_order(game.weights.signs, plays.rows_led, levels)
 
 
 def is_won(game, row, seat=0, *, most=2000):

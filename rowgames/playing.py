@@ -2,43 +2,84 @@
 
 from rowgames.errors import TooMany
 from rowgames.leading import Leads
+from rowgames.states import led_on
 
 
 class Plays:
-    """The plays of a game, of at most so many positions each; what is judged is kept."""
+    """The plays of a game, of at most so many positions each. What is met and judged is kept.
+
+    All positions behind a met one are met before anything else is done, and likewise judged. When
+    TooMany was raised, nothing further is to be asked.
+    """
 
     def __init__(self, game, most):
         self.game = game
         self.most = most
         self.leads = [Leads(game.weights.pairs, book.rules) for book in game.books]
+        # For each seat by rows: the rows behind the moves, whether it is won, and a number of
+        # positions that plays from there do not exceed.
+        self.rows_led = [{} for _ in game.books]
         self.won = [{} for _ in game.books]
+        self.bounds = [{} for _ in game.books]
+        # The equation goes by which answers there are, False and True, and perhaps by the goal.
+        self.equation = [[self.reads_of([]), self.reads_of([True])],
+                         [self.reads_of([False]), self.reads_of([False, True])]]
+        self.heads = {}
+        self.goals = {}
 
-    def met_from(self, row, seat):
-        """For each seat the met rows with those behind their moves, and all met rows by weight."""
-        met = [{} for _ in self.leads]
+    def reads_of(self, answers):
+        """The right side of the equation for a row that is no goal row, and for one that is."""
+        return self.game.reads(False, answers), self.game.reads(True, answers)
+
+    def is_won(self, row, seat):
+        """Whether a row is won for a seat."""
+        if row not in self.won[seat]:
+            self.judge_from(row, seat)
+        return self.won[seat][row]
+
+    def judge_from(self, row, seat):
+        """Judges all positions to which plays lead; the new ones by weight."""
+        levels, bound = self.meet(row, seat)
+        # Positions that were met before are counted by their bounds, perhaps several times.
+        if bound > self.most:
+            bound = self.count_from(row, seat)
+        self.judge(levels, bound)
+        return levels
+
+    def meet(self, row, seat):
+        """Meets all positions to which plays lead; the new ones by weight, and a bound of how many there are."""
         levels = {}
         front = [row]
         many = 1
+        others = 0
         # Players move by turns: so all positions that are so many moves away are of one seat.
         while front:
             self.check_many(many)
-            further = self.gone_on(front, seat, met[seat], levels)
-            seat = self.game.judge(seat)
-            front = [led for led in further if led not in met[seat]]
+            further = self.gone_on(front, seat, levels)
+            seat = self.game.judges[seat]
+            behind = self.rows_led[seat]
+            bounds = self.bounds[seat]
+            front = [led for led in further if led not in behind]
             many = many + len(front)
-        return met, levels
+            if len(front) < len(further):
+                others = others + sum([bounds[led] for led in further if led in bounds])
+        return levels, many + others
 
-    def gone_on(self, front, seat, behind, levels):
-        """Puts rows of a seat behind the met ones; the different rows behind their moves."""
+    def gone_on(self, front, seat, levels):
+        """Meets rows of a seat; the different rows behind their moves."""
         leads = self.leads[seat]
+        behind = self.rows_led[seat]
         further = {}
         for row in front:
             weight, rows = leads.looked_up(row)
             behind[row] = rows
-            levels.setdefault(weight, {})[row] = True
+            if weight not in levels:
+                levels[weight] = [[] for _ in self.leads]
+            levels[weight][seat].append(row)
             for led in rows:
                 further[led] = True
-            self.check_many(len(further))
+            if len(further) > self.most:
+                raise TooMany("rows", self.most)
         return further
 
     def check_many(self, many):
@@ -46,24 +87,59 @@ class Plays:
         if many > self.most:
             raise TooMany("rows", self.most)
 
-    def is_won(self, row, seat):
-        """Whether a row is won for a seat."""
-        # What is judged was met from a position with few enough ones, so it has no more itself.
-        if row not in self.won[seat]:
-            met, levels = self.met_from(row, seat)
-            self.judge_met(met, levels)
-        return self.won[seat][row]
+    def reached_from(self, rows, seat):
+        """For each seat the rows to which plays lead from met rows of a seat."""
+        reached = [{} for _ in self.rows_led]
+        front = rows
+        while front:
+            found = reached[seat]
+            for row in front:
+                found[row] = True
+            behind = self.rows_led[seat]
+            seat = self.game.judges[seat]
+            found = reached[seat]
+            further = {led: True for row in front for led in behind[row]}
+            front = [led for led in further if led not in found]
+        return reached
 
-    def judge_met(self, met, levels):
-        """Judges all met positions, the lightest rows first: moves lead to lighter ones."""
+    def count_from(self, row, seat):
+        """To how many positions plays lead from a met one; raises TooMany."""
+        many = sum([len(rows) for rows in self.reached_from([row], seat)])
+        self.check_many(many)
+        return many
+
+    def judge(self, levels, bound):
+        """Judges met positions, the lightest rows first: moves lead to lighter ones."""
         for weight in sorted([int(key) for key in levels]):
-            for seat, behind in enumerate(met):
+            for seat, rows in enumerate(levels[weight]):
+                behind = self.rows_led[seat]
                 won = self.won[seat]
-                judged = self.won[self.game.judge(seat)]
-                for row in levels[weight]:
-                    if row in behind and row not in won:
-                        answers = [judged[led] for led in behind[row]]
-                        won[row] = self.game.reads(is_goal(self.game, row), answers)
+                bounds = self.bounds[seat]
+                judged = self.won[self.game.judges[seat]]
+                for row in rows:
+                    answers = [judged[led] for led in behind[row]]
+                    bare, with_goal = self.equation[False in answers][True in answers]
+                    won[row] = bare if bare == with_goal or not self.is_goal(row) else with_goal
+                    bounds[row] = bound
+
+    def is_goal(self, row):
+        """Whether a row is a goal row of a game that has a goal. What its halves do is kept, too."""
+        if self.game.goal is None:
+            return False
+        middle = len(row) // 2
+        head = row[:middle]
+        if head not in self.heads:
+            self.heads[head] = self.led_to_goal(0, head)
+        state = self.heads[head]
+        tails = self.goals.setdefault(state, {})
+        tail = row[middle:]
+        if tail not in tails:
+            tails[tail] = self.game.goal.told[self.led_to_goal(state, tail)]
+        return tails[tail]
+
+    def led_to_goal(self, state, text):
+        """The state of the goal behind a text that is read from a state on."""
+        return led_on(self.game.goal.signs, self.game.goal.steps, state, text)
 
 
 def is_goal(game, row):

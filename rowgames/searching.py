@@ -1,9 +1,10 @@
 """Searching: members and endings that grow until machines of them are right."""
 
+from rowgames.ends import Ends
 from rowgames.ledgers import entries_from
 from rowgames.machines import Machine
 from rowgames.playing import Plays
-from rowgames.tables import look
+from rowgames.tables import look_on
 
 
 class Search:
@@ -13,6 +14,7 @@ class Search:
         self.game = game
         self.most = most
         self.plays = Plays(game, rows)
+        self.ends_met = Ends(game)
         self.members = [[""] for _ in game.books]
         self.ends = [[""] for _ in game.books]
         self.heard = [{} for _ in game.books]
@@ -20,9 +22,11 @@ class Search:
     def told_of(self, seat, row):
         """For each ending of a seat whether the row with this ending is won."""
         heard = self.heard[seat].get(row, ())
-        further = [self.plays.is_won(row + ending, seat) for ending in self.ends[seat][len(heard):]]
-        self.heard[seat][row] = heard + tuple(further)
-        return self.heard[seat][row]
+        ends = self.ends[seat]
+        if len(heard) < len(ends):
+            heard = heard + tuple([self.plays.is_won(row + ending, seat) for ending in ends[len(heard):]])
+            self.heard[seat][row] = heard
+        return heard
 
     def kinds_of_members(self, seat):
         """The members of a seat by what is told of them; no two are alike."""
@@ -31,23 +35,34 @@ class Search:
     def grown(self):
         """The first seat that comes to more members than the most, None if all seats are grown."""
         for seat in range(self.game.seats):
-            further = self.first_unlike(seat)
-            while further is not None:
-                self.members[seat].append(further)
-                if len(self.members[seat]) > self.most:
-                    return seat
-                further = self.first_unlike(seat)
+            if self.is_overgrown(seat):
+                return seat
         return None
 
-    def first_unlike(self, seat):
-        """The first row of a member and a sign more that is alike to no member; None if none is."""
+    def is_overgrown(self, seat):
+        """Whether a seat, when each further row that is alike to no member becomes one, has too many."""
+        members = self.members[seat]
         kinds = self.kinds_of_members(seat)
-        rows = [member + sign for member in self.members[seat] for sign in self.game.weights.signs]
+        rows = self.rows_behind(seat, members)
+        at = 0
+        while at < len(rows):
+            kind = self.told_of(seat, rows[at])
+            if kind not in kinds:
+                kinds[kind] = len(members)
+                members.append(rows[at])
+                if len(members) > self.most:
+                    return True
+                rows.extend(self.rows_behind(seat, members[-1:]))
+            at = at + 1
+        return False
+
+    def rows_behind(self, seat, members):
+        """The rows of members and a sign more."""
+        rows = [member + sign for member in members for sign in self.game.weights.signs]
         # All are judged, whether they are needed or not: any of them may have too many positions.
-        unlike = [row for row in rows if self.told_of(seat, row) not in kinds]
-        if unlike == []:
-            return None
-        return unlike[0]
+        for row in rows:
+            self.told_of(seat, row)
+        return rows
 
     def machine_of(self, seat):
         """The machine of a seat: a state for each member, in their order."""
@@ -60,7 +75,7 @@ class Search:
     def looked(self, stands):
         """The look at the machines; if they are wrong, the endings of that row are put behind the others."""
         machines = [self.machine_of(seat) for seat in range(self.game.seats)]
-        found = look(self.game, *machines, most=stands)
+        found = look_on(self.ends_met, self.game, tuple(machines), stands)
         if not found:
             ends = self.ends[found.seat]
             for start in range(len(found.row) + 1):
@@ -81,15 +96,8 @@ class Search:
     def ledger_of_parting(self, seat, triples):
         """The entries of all plays from both members of each triple, with its ending."""
         members = self.members[seat]
-        ledger = {}
-        for at, further, ending in triples:
-            for row in (members[at] + ending, members[further] + ending):
-                # What is in it has all positions behind it in it, too.
-                if (row, seat) not in ledger:
-                    entries = entries_from(self.plays, row, seat)
-                    for position, entry in entries.items():
-                        ledger[position] = entry
-        return ledger
+        rows = {members[at] + ending: True for one, other, ending in triples for at in (one, other)}
+        return entries_from(self.plays, list(rows), seat)
 
     def members_and_endings(self):
         """The members of each seat, and the endings that part them."""

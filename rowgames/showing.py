@@ -6,6 +6,7 @@ machine tells the equation must hold. To look at all rows it is the machine that
 
 from rowgames.letters import is_from_to, weigh, wrong_at
 from rowgames.machines import are_states
+from rowgames.standing import stand_of
 
 
 def is_stand(ground, value):
@@ -38,7 +39,7 @@ def are_moved(ground, value):
     if not isinstance(value, tuple) or len(value) != len(ground.ways):
         return False
     for seat, states in enumerate(value):
-        ways = ground.ways[ground.judges[seat]]
+        ways = ground.ways[ground.game.judges[seat]]
         if not isinstance(states, tuple) or not are_states(states, len(states), len(ways) - 1):
             return False
         if not all([one < other for one, other in zip(states, states[1:])]):
@@ -103,7 +104,8 @@ def shows_first(ground, among, row, seat, bounds):
         return False
     if len(set([pair for pair, _ in bounds])) != len(bounds) or not among[row]:
         return False
-    return ground.failing(ground.stand_of(row)) == seat and do_bound(ground, among, bounds, row)
+    stand = stand_of(ground.game, ground.machines, row)
+    return ground.failing(stand) == seat and do_bound(ground, among, bounds, row)
 
 
 def do_bound(ground, among, bounds, row):
@@ -131,7 +133,7 @@ def goes_on(ground, among, ranks, pair, last):
 
 def rank_of(ground, row):
     """What orders rows: weight, length, and the indexes of the signs as figures."""
-    marks = "".join([str(at) for at in ground.spelled(row)])
+    marks = "".join([str(ground.letters.index(sign)) for sign in row])
     return (weigh(ground.game.weights.pairs, row), len(row), marks)
 
 

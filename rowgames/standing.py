@@ -1,5 +1,6 @@
 """Standing: what the stands of rows go by, for a game and its machines."""
 
+from rowgames.ends import texts_put
 from rowgames.errors import BadGame, OtherSigns
 from rowgames.machines import Machine
 
@@ -12,83 +13,67 @@ class Ground:
 
     def __init__(self, game, machines):
         self.game = game
-        self.letters = game.weights.signs
         self.machines = machines
+        self.letters = game.weights.signs
+        self.tail_length = game.longest
         self.ways = [machine.steps for machine in machines]
-        self.judges = [game.judge(seat) for seat in range(game.seats)]
-        self.loose = [[rule for rule in book.rules if not rule.right] for book in game.books]
-        self.bound = [[rule for rule in book.rules if rule.right] for book in game.books]
-
-    def spelled(self, text):
-        """The indexes of the signs of a text."""
-        return [self.letters.index(sign) for sign in text]
 
     def first(self):
         """The stand of the empty row."""
         many = len(self.ways)
         return (True, (0,) * many, "", ((),) * many, None if self.game.goal is None else 0)
 
-    def stand_of(self, row):
-        """The stand of a row."""
-        stand = self.first()
-        for at in self.spelled(row):
-            stand = self.further(stand, at)
-        return stand
-
     def further(self, stand, at):
         """The stand of the rows with a stand and one sign more, the sign with this index."""
         fresh, back, tail, moved, goal = stand
         tail = tail + self.letters[at]
-        if len(tail) > self.game.longest:
+        if len(tail) > self.tail_length:
             gone = self.letters.index(tail[0])
             back = tuple([ways[state][gone] for ways, state in zip(self.ways, back)])
             tail = tail[1:]
             fresh = False
-        part = (fresh, back, tail)
-        moved = tuple([self.moved_on(seat, states, at, part) for seat, states in enumerate(moved)])
+        found = []
+        for seat, judge in enumerate(self.game.judges):
+            ways = self.ways[judge]
+            states = [ways[state][at] for state in moved[seat]]
+            found.append(ascending(states + self.put_on(seat, False, fresh, back, tail)))
         if goal is not None:
             goal = self.game.goal.steps[goal][at]
-        return (fresh, back, tail, moved, goal)
+        return (fresh, back, tail, tuple(found), goal)
 
-    def moved_on(self, seat, moved, at, part):
-        """The states behind the moves of a seat, one sign on; part is how the new stand begins."""
-        ways = self.ways[self.judges[seat]]
-        states = {ways[state][at]: True for state in moved}
-        for state in self.put_by(self.loose[seat], seat, part):
-            states[state] = True
-        return tuple(sorted([int(state) for state in states]))
+    def put_on(self, seat, right, fresh, back, tail):
+        """The judging states behind the moves of a seat by rules whose old stretch ends a tail.
 
-    def put_by(self, rules, seat, part):
-        """The judging states behind the rules of a seat that fit where a row with a stand ends."""
-        fresh, back, tail = part
-        judge = self.judges[seat]
-        found = []
-        for rule in rules:
-            whole = fresh and tail == rule.old
-            if tail.endswith(rule.old) and (whole or not rule.left):
-                text = tail[:len(tail) - len(rule.old)] + rule.new
-                found.append(led_by(self.ways[judge], back[judge], self.spelled(text)))
-        return found
+        They are those of the rules of the right end, or those of the others.
+        """
+        judge = self.game.judges[seat]
+        ways = self.ways[judge]
+        states = []
+        for text in texts_put(self.game.books[seat].rules, right, fresh, tail):
+            state = back[judge]
+            for sign in text:
+                state = ways[state][self.letters.index(sign)]
+            states.append(state)
+        return states
 
     def answers_behind(self, stand, seat):
         """What the judging machine tells behind the moves of a seat, each answer at least once."""
-        told = self.machines[self.judges[seat]].told
-        states = list(stand[3][seat]) + self.put_by(self.bound[seat], seat, stand[:3])
-        return [told[state] for state in states]
+        fresh, back, tail, moved, _ = stand
+        told = self.machines[self.game.judges[seat]].told
+        return [told[state] for state in list(moved[seat]) + self.put_on(seat, True, fresh, back, tail)]
 
     def is_told(self, stand, seat):
         """Whether the machine of a seat tells the rows with a stand."""
-        state = led_by(self.ways[seat], stand[1][seat], self.spelled(stand[2]))
+        ways = self.ways[seat]
+        state = stand[1][seat]
+        for sign in stand[2]:
+            state = ways[state][self.letters.index(sign)]
         return self.machines[seat].told[state]
-
-    def reads(self, stand, seat):
-        """The right side of a seat's equation at the rows with a stand."""
-        is_goal = stand[4] is not None and self.game.goal.told[stand[4]]
-        return self.game.reads(is_goal, self.answers_behind(stand, seat))
 
     def passes(self, stand, seat):
         """Whether the equation of a seat holds at the rows with a stand."""
-        return self.is_told(stand, seat) == self.reads(stand, seat)
+        is_goal = stand[4] is not None and self.game.goal.told[stand[4]]
+        return self.is_told(stand, seat) == self.game.reads(is_goal, self.answers_behind(stand, seat))
 
     def failing(self, stand):
         """The first seat whose equation fails at the rows with a stand, None if none does."""
@@ -103,6 +88,51 @@ def led_by(ways, state, indexes):
     for at in indexes:
         state = ways[state][at]
     return state
+
+
+def ascending(states):
+    """The tuple of some states, ascending, none twice."""
+    if len(states) < 2:
+        return tuple(states)
+    return tuple(sorted(set(states)))
+
+
+def stand_of(game, machines, row):
+    """The stand of a row, told at once by its moves."""
+    letters = game.weights.signs
+    indexes = [letters.index(sign) for sign in row]
+    paths = [states_on(machine.steps, indexes) for machine in machines]
+    cut = max(0, len(row) - game.longest)
+    back = tuple([path[cut] for path in paths])
+    moved = []
+    for judge, book in zip(game.judges, game.books):
+        moved.append(states_behind(book.rules, row, letters, machines[judge].steps, paths[judge]))
+    goal = None if game.goal is None else led_by(game.goal.steps, 0, indexes)
+    return (cut == 0, back, row[cut:], tuple(moved), goal)
+
+
+def states_on(ways, indexes):
+    """The states ahead of the first sign, behind it, behind the second one and so on."""
+    state = 0
+    states = [0]
+    for at in indexes:
+        state = ways[state][at]
+        states.append(state)
+    return states
+
+
+def states_behind(rules, row, letters, ways, path):
+    """The states behind the moves from a row by rules that are not of the right end, ascending."""
+    states = []
+    for rule in rules:
+        place = -1 if rule.right else row.find(rule.old)
+        while place == 0 or (place > 0 and not rule.left):
+            state = path[place]
+            for sign in rule.new + row[place + len(rule.old):]:
+                state = ways[state][letters.index(sign)]
+            states.append(state)
+            place = row.find(rule.old, place + 1)
+    return ascending(states)
 
 
 def are_given(game, machines):

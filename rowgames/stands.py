@@ -1,18 +1,18 @@
 """Stands: what machines have to remember of a row, that the equation can be looked at there."""
 
+from rowgames.ends import Ends
 from rowgames.errors import BadSigns
 from rowgames.games import check_seat
 from rowgames.letters import check_row
-from rowgames.machines import Machine
-from rowgames.standing import Ground
+from rowgames.standing import Ground, stand_of
+from rowgames.surveying import Survey
 from rowgames.walking import walk
 
 
 def stand_at(game, machines, row):
     """The stand of a row: a tuple (fresh, back, tail, moved, goal)."""
     check_row(game.weights.signs, row)
-    ground = Ground(game, machines)
-    return ground.stand_of(row)
+    return stand_of(game, machines, row)
 
 
 def next_stand(game, machines, stand, sign):
@@ -32,7 +32,6 @@ def passes(game, machines, stand, seat):
 
 def stands(game, machines, *, most=2000):
     """Each stand that a row has, with the first such row, in the order of these rows."""
-    ground = Ground(game, list(machines))
-    among = Machine.every(ground.letters)
-    for pair, row in walk(ground, among, most):
-        yield pair[0], row
+    survey = Survey(Ends(game), game, list(machines), None)
+    for code, row in walk(survey, most):
+        yield survey.stand_of_code(code), row

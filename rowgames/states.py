@@ -2,6 +2,8 @@
 
 from rowgames.errors import TooMany
 
+ROUNDS = 16
+
 
 def led_on(signs, steps, state, text):
     """The state behind a text that is read from a state on."""
@@ -63,23 +65,49 @@ def smaller_part(block, states):
 def kinds_of(steps, told):
     """For each state the number of its kind: states of one kind tell the same endings.
 
+    States are of unlike kinds if a sign leads them into unlike kinds. A few rounds over all states
+    are mostly enough to find the kinds; if not, they are split one by one.
+    """
+    kinds = [1 if answer else 0 for answer in told]
+    columns = [list(column) for column in zip(*steps)]
+    many = len(set(kinds))
+    for _ in range(ROUNDS):
+        kinds, further = split_by_columns(kinds, columns)
+        if further == many:
+            return kinds
+        many = further
+    return split_one_by_one(kinds, steps)
+
+
+def split_by_columns(kinds, columns):
+    """Numbers of the kinds that states have by their kind and by those of the next states; how many there are."""
+    ahead = [[kinds[led] for led in column] for column in columns]
+    marks = list(zip(kinds, *ahead))
+    found = {mark: True for mark in marks}
+    numbers = {mark: number for number, mark in enumerate(found)}
+    return [numbers[mark] for mark in marks], len(numbers)
+
+
+def split_one_by_one(kinds, steps):
+    """The kinds of states, of which some are known to be of unlike kinds.
+
     Hopcroft's way: kinds are split until all states of one are led into the same kinds. It is
     the smaller part that gets a new number; so no state is moved often.
     """
     many = len(steps[0])
     ahead = origins(steps)
-    kinds = [1 if answer else 0 for answer in told]
+    found = list(kinds)
     blocks = {}
-    blocks[0] = {state: True for state, kind in enumerate(kinds) if kind == 0}
-    blocks[1] = {state: True for state, kind in enumerate(kinds) if kind == 1}
-    waiting = [0, 1]
+    for state, kind in enumerate(found):
+        blocks.setdefault(kind, {})[state] = True
+    waiting = list(blocks)
     while waiting:
         splitter = list(blocks[waiting.pop()])
         for sign in range(many):
             hit = {}
             for state in splitter:
                 for origin in ahead[state * many + sign]:
-                    hit.setdefault(kinds[origin], []).append(origin)
+                    hit.setdefault(found[origin], []).append(origin)
             for kind, states in hit.items():
                 moved = smaller_part(blocks[kind], states)
                 if moved == []:
@@ -88,9 +116,9 @@ def kinds_of(steps, told):
                 blocks[number] = {state: True for state in moved}
                 for state in moved:
                     del blocks[kind][state]
-                    kinds[state] = number
+                    found[state] = number
                 waiting.append(number)
-    return kinds
+    return found
 
 
 def smallest(steps, told):

@@ -1,7 +1,8 @@
 """Tables: whether machines are right, with what shows it."""
 
-from rowgames.machines import Machine
-from rowgames.standing import Ground, check_machines
+from rowgames.ends import Ends
+from rowgames.standing import check_machines
+from rowgames.surveying import Survey
 from rowgames.walking import passed_pairs
 
 
@@ -60,8 +61,12 @@ class Wrong(Look):
 def look(game, *machines, most=2000):
     """Whether machines are right: a Right or a Wrong."""
     check_machines(game, machines)
-    ground = Ground(game, machines)
-    passed, row, seat = passed_pairs(ground, Machine.every(ground.letters), most)
+    return look_on(Ends(game), game, machines, most)
+
+
+def look_on(ends, game, machines, most):
+    """What look tells; the ends of the game are kept for further looks."""
+    passed, row, seat = passed_pairs(Survey(ends, game, machines, None), None, most)
     if row is None:
         return Right(game, machines, tuple([pair[0] for pair, _ in passed]))
     return Wrong(game, machines, row, seat, tuple([(pair[0], first) for pair, first in passed]))

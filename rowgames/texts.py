@@ -36,7 +36,7 @@ def write_ledger(ledger, weights):
     levels = {}
     for row, seat in ledger:
         met[seat][row] = True
-        levels.setdefault(weights(row), {})[row] = True
+        levels.setdefault(weights(row), []).append([row])
     positions = positions_in_order(weights.signs, met, levels)
     return "\n".join([line_of_entry(position, ledger[position]) for position in positions])
 

@@ -456,6 +456,7 @@ def check_sorted(file, node):
     plain = isinstance(first, ast.ListComp) and isinstance(first.elt, ast.Call) \
         and ast.unparse(first.elt.func) in ("int", "str", "len")
     keys = [ast.unparse(one.value) for one in node.keywords if one.arg == "key"]
+    plain = plain or isinstance(first, ast.Call) and ast.unparse(first.func) == "set" and not node.keywords
     # Of two values one that is written out is enough.
     beside = len(node.args) == 2 and isinstance(first, ast.Constant)
     if plain or beside or keys and keys[0] in ("int", "str", "len"):
@@ -534,5 +535,6 @@ def check_shared_names(files):
     found += [f"{name} is assigned and a property without a setter" for name in properties & stored]
     found += [f"{name} is a class method and something else" for name in made & (methods | stored | values | METHODS)]
     found += [f"{name} is a class value and something else" for name in values & (methods | stored)]
+    found += [f"{name} is a method and an attribute" for name in methods & stored]
     known = stored | properties | values | {"__name__", "__class__"}
     return found + [text for name, text in read.items() if name not in known]
