@@ -9,54 +9,53 @@ class Ends:
 
     def __init__(self, game):
         self.letters = game.weights.signs
-        self.books = game.books
+        self.rules = [(seat, rule) for seat, book in enumerate(game.books) for rule in book.rules]
         self.tail_length = game.longest
         self.numbers = {}
-        # By numbers: the ends, the tails by the indexes of their signs, the ends behind by each
-        # sign, and for each seat the ends, by indexes, that fitting rules put in the place of
-        # the tail: those of the rules that are not of the right end, and of those that are.
+        # By numbers: the ends, the ends behind by each sign, and for each rule that fits: its
+        # seat, whether it is of the right end, and what it puts in the place of the tail, by the
+        # indexes of the signs.
         self.met = []
-        self.tails = []
         self.onward = []
-        self.loose = []
-        self.bound = []
+        self.texts = []
+        self.meet((True, ""))
 
-    def number_of(self, fresh, tail):
-        """The number of an end."""
-        if (fresh, tail) not in self.numbers:
-            self.numbers[(fresh, tail)] = len(self.met)
-            self.met.append((fresh, tail))
-            self.tails.append(self.spelled(tail))
-            self.onward.append(None)
-            self.loose.append([self.put_by(book.rules, False, fresh, tail) for book in self.books])
-            self.bound.append([self.put_by(book.rules, True, fresh, tail) for book in self.books])
-        return self.numbers[(fresh, tail)]
+    def meet(self, end):
+        """Gives a new end a number, and looks at it."""
+        fresh, tail = end
+        self.numbers[end] = len(self.met)
+        self.met.append(end)
+        self.onward.append(None)
+        fitting = [(seat, rule) for seat, rule in self.rules if tail.endswith(rule.old) and ends_row(rule, fresh, tail)]
+        self.texts.append([(seat, rule.right, self.spelled(text_put(rule, tail))) for seat, rule in fitting])
 
     def spelled(self, text):
         """The indexes of the signs of a text."""
         return [self.letters.index(sign) for sign in text]
 
-    def put_by(self, rules, right, fresh, tail):
-        """What rules of the right end, or the others, put in the place of a tail, by indexes."""
-        return [self.spelled(text) for text in texts_put(rules, right, fresh, tail)]
-
     def behind(self, number):
-        """The numbers of the ends behind an end by each sign."""
-        if self.onward[number] is None:
-            fresh, tail = self.met[number]
-            found = []
-            for sign in self.letters:
-                text = tail + sign
-                cut = max(0, len(text) - self.tail_length)
-                found.append(self.number_of(fresh and cut == 0, text[cut:]))
-            self.onward[number] = found
-        return self.onward[number]
+        """The numbers of the ends behind an end by each sign, which were not asked for before."""
+        fresh, tail = self.met[number]
+        rest = tail
+        if len(tail) >= self.tail_length:
+            rest = tail[1:]
+            fresh = False
+        found = []
+        for sign in self.letters:
+            # Without any rule no sign is kept.
+            end = (fresh, rest + sign if self.tail_length > 0 else "")
+            if end not in self.numbers:
+                self.meet(end)
+            found.append(self.numbers[end])
+        self.onward[number] = found
+        return found
 
 
-def texts_put(rules, right, fresh, tail):
-    """What rules of the right end, or the others, put in the place of a tail at which old stretches end."""
-    found = []
-    for rule in rules:
-        if rule.right == right and tail.endswith(rule.old) and (not rule.left or (fresh and tail == rule.old)):
-            found.append(tail[:len(tail) - len(rule.old)] + rule.new)
-    return found
+def ends_row(rule, fresh, tail):
+    """Whether a rule whose old stretch ends a tail is not bound to the left end, or fits there, too."""
+    return not rule.left or (fresh and tail == rule.old)
+
+
+def text_put(rule, tail):
+    """What a rule whose old stretch ends a tail puts in the place of the tail."""
+    return tail[:len(tail) - len(rule.old)] + rule.new

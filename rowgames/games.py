@@ -218,3 +218,21 @@ def reads_duel(last, answers):
     if len(answers) == 0:
         return not last
     return not all(answers)
+
+
+class Equation:
+    """The right side of the equation of a game: it goes by which answers there are, and perhaps by the goal."""
+
+    def __init__(self, game):
+        self.game = game
+        self.readings = {}
+
+    def read_by(self, some):
+        """The right side for a row that is no goal row, and for one that is.
+
+        It goes by whether some answer is False and whether some is True.
+        """
+        if some not in self.readings:
+            answers = [answer for answer in (False, True) if some[answer]]
+            self.readings[some] = (self.game.reads(False, answers), self.game.reads(True, answers))
+        return self.readings[some]

@@ -2,7 +2,7 @@
 
 from rowgames.ends import Ends
 from rowgames.errors import BadGame, OtherSigns
-from rowgames.games import Shared, Some
+from rowgames.games import Equation, Shared, Some
 from rowgames.machines import Machine, least_machine
 from rowgames.standing import check_machines
 from rowgames.surveying import Readings, Survey, surveyed, told_set
@@ -31,7 +31,7 @@ def image(game, *machines, most=2000):
     check_machines(game, machines)
     survey = survey_of(game, machines)
     codes, steps = surveyed(survey, most)
-    readings = Readings(survey)
+    readings = Readings(survey, Equation(game))
     images = []
     for seat in range(game.seats):
         told = [readings.reads(code, seat) for code in codes]

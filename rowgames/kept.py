@@ -2,7 +2,7 @@
 
 from rowgames.ends import Ends
 from rowgames.errors import NotKept, OtherSigns
-from rowgames.games import Shared
+from rowgames.games import Equation, Shared
 from rowgames.machines import Machine
 from rowgames.moving import moves_from, row_of_move
 from rowgames.showing import is_closed, is_stand, shows_first, shows_table
@@ -115,7 +115,7 @@ def look_among(game, among, *machines, most=2000):
         raise OtherSigns("among")
     check_machines(game, machines)
     tables = tuple([table_of_kept(book, among, most) for book in game.books])
-    passed, row, seat = passed_pairs(Survey(Ends(game), game, machines, among), among, most)
+    passed, row, seat = passed_pairs(Survey(Ends(game), game, machines, among), Equation(game), among, most)
     if row is None:
         return RightAmong(game, machines, tuple([pair for pair, _ in passed]), tables)
     return WrongAmong(game, machines, row, seat, tuple(passed), tables)

@@ -14,10 +14,11 @@ class Leads:
     def __init__(self, pairs, rules):
         self.pairs = pairs
         self.loose = [(rule.old, rule.new) for rule in rules if not rule.left and not rule.right]
-        self.lefts = [(rule.old, rule.new) for rule in rules if rule.left and not rule.right]
-        self.rights = [(rule.old, rule.new) for rule in rules if rule.right and not rule.left]
-        self.wholes = [(rule.old, rule.new) for rule in rules if rule.left and rule.right]
-        self.is_tied = len(self.loose) < len(rules)
+        tied = [rule for rule in rules if rule.left or rule.right]
+        self.is_tied = len(tied) > 0
+        self.lefts = [(rule.old, rule.new) for rule in tied if not rule.right]
+        self.rights = [(rule.old, rule.new) for rule in tied if not rule.left]
+        self.wholes = [(rule.old, rule.new) for rule in tied if rule.left and rule.right]
         # How far a stretch that begins in the first half may reach over its end.
         self.reach = max([len(old) for old, _ in self.loose], default=1) - 1
         self.heads = {}

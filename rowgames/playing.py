@@ -1,6 +1,7 @@
 """Playing: all plays from a position, and who wins at the positions that are met."""
 
 from rowgames.errors import TooMany
+from rowgames.games import Equation
 from rowgames.leading import Leads
 from rowgames.states import led_on
 
@@ -21,15 +22,9 @@ class Plays:
         self.rows_led = [{} for _ in game.books]
         self.won = [{} for _ in game.books]
         self.bounds = [{} for _ in game.books]
-        # The equation goes by which answers there are, False and True, and perhaps by the goal.
-        self.equation = [[self.reads_of([]), self.reads_of([True])],
-                         [self.reads_of([False]), self.reads_of([False, True])]]
+        self.equation = Equation(game)
         self.heads = {}
         self.goals = {}
-
-    def reads_of(self, answers):
-        """The right side of the equation for a row that is no goal row, and for one that is."""
-        return self.game.reads(False, answers), self.game.reads(True, answers)
 
     def is_won(self, row, seat):
         """Whether a row is won for a seat."""
@@ -110,6 +105,7 @@ class Plays:
 
     def judge(self, levels, bound):
         """Judges met positions, the lightest rows first: moves lead to lighter ones."""
+        readings = self.equation.readings
         for weight in sorted([int(key) for key in levels]):
             for seat, rows in enumerate(levels[weight]):
                 behind = self.rows_led[seat]
@@ -118,7 +114,8 @@ class Plays:
                 judged = self.won[self.game.judges[seat]]
                 for row in rows:
                     answers = [judged[led] for led in behind[row]]
-                    bare, with_goal = self.equation[False in answers][True in answers]
+                    some = (False in answers, True in answers)
+                    bare, with_goal = readings.get(some) or self.equation.read_by(some)
                     won[row] = bare if bare == with_goal or not self.is_goal(row) else with_goal
                     bounds[row] = bound
 

@@ -75,7 +75,7 @@ class Search:
     def looked(self, stands):
         """The look at the machines; if they are wrong, the endings of that row are put behind the others."""
         machines = [self.machine_of(seat) for seat in range(self.game.seats)]
-        found = look_on(self.ends_met, self.game, tuple(machines), stands)
+        found = look_on(self.ends_met, self.plays.equation, self.game, tuple(machines), stands)
         if not found:
             ends = self.ends[found.seat]
             for start in range(len(found.row) + 1):

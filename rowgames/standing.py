@@ -1,6 +1,6 @@
 """Standing: what the stands of rows go by, for a game and its machines."""
 
-from rowgames.ends import texts_put
+from rowgames.ends import ends_row, text_put
 from rowgames.errors import BadGame, OtherSigns
 from rowgames.machines import Machine
 
@@ -49,11 +49,12 @@ class Ground:
         judge = self.game.judges[seat]
         ways = self.ways[judge]
         states = []
-        for text in texts_put(self.game.books[seat].rules, right, fresh, tail):
-            state = back[judge]
-            for sign in text:
-                state = ways[state][self.letters.index(sign)]
-            states.append(state)
+        for rule in self.game.books[seat].rules:
+            if tail.endswith(rule.old) and rule.right == right and ends_row(rule, fresh, tail):
+                state = back[judge]
+                for sign in text_put(rule, tail):
+                    state = ways[state][self.letters.index(sign)]
+                states.append(state)
         return states
 
     def answers_behind(self, stand, seat):

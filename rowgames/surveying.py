@@ -37,35 +37,34 @@ class Survey:
         self.put_two = []
         self.bound = []
         back = (0,) * len(machines)
-        self.keep((ends.number_of(True, ""), back), back)
+        self.keep((0, back), back)
 
     def keep(self, part, states):
-        """Adds a new part, behind whose rows the machines are in these states."""
+        """Gives a new part a number. Behind its rows the machines are in these states."""
         end, back = part
-        loose = self.ends.loose[end]
-        bound = self.ends.bound[end]
         self.numbers[part] = len(self.parts)
         self.parts.append(part)
         self.onward.append(None)
         self.states.append(states)
-        self.put_one.append(self.set_behind(0, back, loose[0]) if loose[0] else 0)
-        self.put_two.append(self.set_behind(1, back, loose[1]) if loose[-1] and len(loose) == 2 else 0)
-        self.bound.append([self.set_behind(seat, back, texts) for seat, texts in enumerate(bound)])
-
-    def set_behind(self, seat, back, texts):
-        """The set of the judging states behind ends that rules of a seat make."""
-        judge = self.game.judges[seat]
-        return set_of([led_by(self.ways[judge], back[judge], indexes) for indexes in texts])
+        put = [0, 0]
+        bound = [0, 0]
+        for seat, right, indexes in self.ends.texts[end]:
+            judge = self.game.judges[seat]
+            sets = bound if right else put
+            sets[seat] = sets[seat] | (1 << led_by(self.ways[judge], back[judge], indexes))
+        self.put_one.append(put[0])
+        self.put_two.append(put[1])
+        self.bound.append(bound)
 
     def parts_behind(self, number):
         """The parts behind a part by each sign, which were not asked for before."""
         end, back = self.parts[number]
-        tail = self.ends.tails[end]
+        tail = self.ends.met[end][1]
         longest = self.ends.tail_length
         if len(tail) == longest and longest > 0:
-            back = self.led_on(back, tail[0])
+            back = self.led_on(back, self.ends.letters.index(tail[0]))
         found = []
-        for at, further in enumerate(self.ends.behind(end)):
+        for at, further in enumerate(self.ends.onward[end] or self.ends.behind(end)):
             # Without any rule no sign is kept in a tail: each one goes on in the back at once.
             part = (further, back if longest > 0 else self.led_on(back, at))
             if part not in self.numbers:
@@ -78,7 +77,7 @@ class Survey:
         """The states of the machines one sign on."""
         return tuple([ways[state][at] for ways, state in zip(self.ways, states)])
 
-    def sets_behind(self, led, seat, moved):
+    def moved_on(self, led, seat, moved):
         """The sets behind a set of a seat by each sign, which were not asked for before."""
         ways = self.ways[self.game.judges[seat]]
         states = states_of(moved)
@@ -89,8 +88,8 @@ class Survey:
         """The codes behind a code by each sign."""
         number, one, two, goal, state = code
         parts = self.onward[number] or self.parts_behind(number)
-        ones = self.led_one.get(one) or self.sets_behind(self.led_one, 0, one)
-        twos = self.led_two.get(two) or self.sets_behind(self.led_two, 1, two)
+        ones = self.led_one.get(one) or self.moved_on(self.led_one, 0, one)
+        twos = self.led_two.get(two) or self.moved_on(self.led_two, 1, two)
         put_one = self.put_one
         put_two = self.put_two
         return [(part, a | put_one[part], b | put_two[part], led, to) for part, a, b, led, to in zip(
@@ -108,34 +107,33 @@ class Survey:
         """The stand of a code."""
         end, back = self.parts[code[0]]
         fresh, tail = self.ends.met[end]
-        moved = (states_of(code[1]), states_of(code[2]))
-        goal = None if self.game.goal is None else code[3]
-        return (fresh, back, tail, moved[:len(self.machines)], goal)
+        moved = tuple([states_of(states) for states in code[1:1 + len(back)]])
+        return (fresh, back, tail, moved, None if self.game.goal is None else code[3])
 
 
 class Readings:
     """The right side of the equation at codes: it goes by the goal and by which answers there are."""
 
-    def __init__(self, survey):
+    def __init__(self, survey, equation):
         self.survey = survey
+        self.equation = equation
         game = survey.game
         self.goals = [False] if game.goal is None else game.goal.told
-        told = [machine.told for machine in survey.machines]
-        self.yes_sets = [told_set(told[judge], True) for judge in game.judges]
-        self.no_sets = [told_set(told[judge], False) for judge in game.judges]
-        both = (False, True)
-        self.equation = {(is_goal, no, yes): game.reads(is_goal, [False] * no + [True] * yes)
-                     for is_goal in both for no in both for yes in both}
+        self.told_by_seat = [machine.told for machine in survey.machines]
+        self.yes_sets = [told_set(self.told_by_seat[judge], True) for judge in game.judges]
+        self.no_sets = [told_set(self.told_by_seat[judge], False) for judge in game.judges]
 
     def reads(self, code, seat):
         """The right side of a seat's equation at the rows of a code."""
-        moved = self.survey.moved(code, seat)
-        return self.equation[(self.goals[code[3]], (moved & self.no_sets[seat]) > 0, (moved & self.yes_sets[seat]) > 0)]
+        moved = code[1 + seat] | self.survey.bound[code[0]][seat]
+        bare, with_goal = self.equation.read_by((moved & self.no_sets[seat] > 0, moved & self.yes_sets[seat] > 0))
+        return with_goal if self.goals[code[3]] else bare
 
     def failing(self, code):
         """The first seat whose equation fails at the rows of a code, None if none does."""
-        for seat in range(len(self.yes_sets)):
-            if self.survey.is_told(code, seat) != self.reads(code, seat):
+        states = self.survey.states[code[0]]
+        for seat, told in enumerate(self.told_by_seat):
+            if told[states[seat]] != self.reads(code, seat):
                 return seat
         return None
 
@@ -155,6 +153,8 @@ def told_set(told, answer):
 
 def states_of(moved):
     """The states of a set, ascending."""
+    if moved == 0:
+        return ()
     return tuple([state for state in range(moved.bit_length()) if (moved >> state) % 2 == 1])
 
 

@@ -1,6 +1,7 @@
 """Tables: whether machines are right, with what shows it."""
 
 from rowgames.ends import Ends
+from rowgames.games import Equation
 from rowgames.standing import check_machines
 from rowgames.surveying import Survey
 from rowgames.walking import passed_pairs
@@ -61,12 +62,12 @@ class Wrong(Look):
 def look(game, *machines, most=2000):
     """Whether machines are right: a Right or a Wrong."""
     check_machines(game, machines)
-    return look_on(Ends(game), game, machines, most)
+    return look_on(Ends(game), Equation(game), game, machines, most)
 
 
-def look_on(ends, game, machines, most):
-    """What look tells; the ends of the game are kept for further looks."""
-    passed, row, seat = passed_pairs(Survey(ends, game, machines, None), None, most)
+def look_on(ends, equation, game, machines, most):
+    """What look tells; ends and equation are those of the game, kept for further looks."""
+    passed, row, seat = passed_pairs(Survey(ends, game, machines, None), equation, None, most)
     if row is None:
         return Right(game, machines, tuple([pair[0] for pair, _ in passed]))
     return Wrong(game, machines, row, seat, tuple([(pair[0], first) for pair, first in passed]))

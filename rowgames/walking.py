@@ -9,16 +9,16 @@ def walk(survey, most):
 
     The order is that of these rows. The first row of a code, without its last sign, is the first
     one of its own code: so it is enough to go on from first rows. What is to come is kept by
-    weight and by length, and there by the indexes of the signs, which are in order as texts are.
+    weight and length as one number, and there by the indexes of the signs, which are in order as
+    texts are. As at most so many codes come, no row has more signs.
     """
-    weights = [pair[1] for pair in survey.game.weights.pairs]
     signs = survey.game.weights.signs
-    waiting = {0: {0: {"": (FIRST, "")}}}
+    farther = [pair[1] * (most + 2) + 1 for pair in survey.game.weights.pairs]
+    waiting = {0: {"": (FIRST, "")}}
     seen = {}
     while waiting:
-        weight = min([int(key) for key in waiting])
-        length = min([int(key) for key in waiting[weight]])
-        nearest = taken_out(waiting, weight, length)
+        place = min([int(key) for key in waiting])
+        nearest = waiting.pop(place)
         for marks in sorted(list(nearest), key=str):
             code, row = nearest[marks]
             if code in seen:
@@ -29,25 +29,16 @@ def walk(survey, most):
             yield code, row
             for at, further in enumerate(survey.behind(code)):
                 if further not in seen:
-                    lengths = waiting.setdefault(weight + weights[at], {})
-                    lengths.setdefault(length + 1, {})[f"{marks}{at}"] = (further, row + signs[at])
+                    waiting.setdefault(place + farther[at], {})[f"{marks}{at}"] = (further, row + signs[at])
 
 
-def taken_out(waiting, weight, length):
-    """What waits at a weight and a length; it does not wait any more."""
-    nearest = waiting[weight].pop(length)
-    if len(waiting[weight]) == 0:
-        del waiting[weight]
-    return nearest
-
-
-def passed_pairs(survey, among, most):
+def passed_pairs(survey, equation, among, most):
     """The pairs, with their first rows, up to the first one that fails; that one's row and seat.
 
     A pair is a stand and a state of among. It fails if the state is told (without among: always)
     and the equation of a seat fails at the stand. Row and seat are None if no pair fails.
     """
-    readings = Readings(survey)
+    readings = Readings(survey, equation)
     passed = []
     for code, row in walk(survey, most):
         if among is None or among.told[code[4]]:

@@ -1,6 +1,7 @@
 """What the tests share: strict comparing, odd values, and transcripts of examples."""
 
 import ast
+import inspect
 import os
 import unittest
 
@@ -92,6 +93,12 @@ class Case(unittest.TestCase):
         self.assertIs(type(found), type(expected))
         self.same(vars(found), vars(expected))
         return found
+
+
+def defaults_of(call):
+    """The default values of the parameters of a function or a method, by name."""
+    told = inspect.signature(call).parameters.values()
+    return {one.name: one.default for one in told if one.default is not inspect.Parameter.empty}
 
 
 def blocks_of(text):

@@ -12,7 +12,7 @@ from rowgames.machines import Machine
 from rowgames.rules import Rule
 from rowgames.signs import Weights
 from rowgames.tables import look
-from helpers import FLIP, ODD, SHARED, XO, Case, same, values_but
+from helpers import FLIP, ODD, SHARED, XO, Case, defaults_of, same, values_but
 from oracle import NO_RULES, rows_up_to, wins
 from test_tables import SOLVED
 
@@ -317,6 +317,10 @@ class TestNeedlessAndFewest(Case):
             many = len(look(WIDE, *THREE).table)
             self.raises(TooMany("stands", many - 1), ask, WIDE, THREE, most=many - 1)
             ask(WIDE, THREE, most=many)
+
+    def test_the_bound_that_is_not_told(self):
+        for ask in (alike, needless, fewest):
+            self.same(defaults_of(ask), {"most": 2000})
 
     def test_what_a_further_game_raises(self):
         game = Shared(Book(XO, *map(Rule.read, ("xo>", "x>o", "x>o]"))), last=False)

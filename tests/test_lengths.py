@@ -7,7 +7,7 @@ import random
 from rowgames.errors import BadNumber, TooMany
 from rowgames.lengths import Lengths, lengths_of
 from rowgames.machines import Machine
-from helpers import ODD, Case, same, values_but
+from helpers import ODD, Case, defaults_of, values_but
 from oracle import some_machine
 from test_counts import MACHINES
 
@@ -243,6 +243,9 @@ class TestLengthsOf(Case):
                     self.raises(TooMany("sets", len(sets) - 1), lengths_of, machine, every=every, most=len(sets) - 1)
                 seen.append((every, bool(found), found.from_on() is None))
         self.same(len(set(seen)), 6)
+
+    def test_what_is_not_told(self):
+        self.same(defaults_of(lengths_of), {"every": False, "most": 2000})
 
     def test_rows_of_each_length(self):
         for machine in self.machines()[:12]:

@@ -9,7 +9,7 @@ from rowgames.machines import Machine
 from rowgames.players import Leftmost, Mover, Numbered, Perfect, Player, Seer, contest, winner
 from rowgames.rules import Rule
 from rowgames.signs import Weights
-from helpers import FLIP, ODD, SHARED, XO, Case, same, values_but
+from helpers import FLIP, ODD, SHARED, XO, Case, defaults_of, same, values_but
 from oracle import NO_RULES, all_games, machines_of, moves_of, other_seat, rows_up_to, small_games, wins
 from test_tables import SOLVED
 
@@ -193,6 +193,18 @@ class TestMovers(Case):
         self.raises(BadRow(0), mover.chosen, "q", None)
         self.raises(BadSeat(None), mover.chosen, "x", None)
         self.raises(NoMove("o"), mover.chosen, "o")
+        self.assertRaises(NotImplementedError, mover.chosen, "x")
+        self.assertRaises(NotImplementedError, mover, "x")
+
+    def test_the_seats_that_are_not_told(self):
+        for kind in (Mover, Leftmost, Numbered, Perfect):
+            for ask in (kind.chosen, kind.__call__):
+                self.same(defaults_of(ask), {"seat": 0})
+        for kind in (Seer, Perfect):
+            for ask in (kind.winning, kind.all_winning):
+                self.same(defaults_of(ask), {"seat": 0})
+        for ask in (contest, winner):
+            self.same(defaults_of(ask), {"begins": 0})
 
 
 class TestContest(Case):
