@@ -153,9 +153,12 @@ def told_set(told, answer):
 
 def states_of(moved):
     """The states of a set, ascending."""
-    if moved == 0:
-        return ()
-    return tuple([state for state in range(moved.bit_length()) if (moved >> state) % 2 == 1])
+    states = []
+    while moved > 0:
+        lowest = moved & -moved
+        states.append(lowest.bit_length() - 1)
+        moved = moved - lowest
+    return tuple(states)
 
 
 def surveyed(survey, most):
