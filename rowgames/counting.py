@@ -36,21 +36,53 @@ def text_at(signs, steps, endings, length, place):
 def told_far_off(steps, told, n, modulus):
     """How many texts of n signs lead from the state 0 to a told one, modulo a number.
 
-    How many ways lead from each state to each other one is squared again and again.
+    With S states, the number for k + S signs is a sum of those for k to k + S - 1 signs, with the
+    same factors for every k. So let x to the power S be the sum of the lower powers with these
+    factors: what x to the power n is then, the number for n signs is of those for 0 to S - 1.
+    """
+    back = recurrence(steps)
+    power = [1] + [0] * (len(back) - 1)
+    for figure in f"{n:b}":
+        power = product(power, power, back, modulus)
+        if figure == "1":
+            power = times_x(power, back, modulus)
+    endings = endings_of(steps, told, len(back) - 1)
+    return sum([factor * counts[0] for factor, counts in zip(power, endings)]) % modulus
+
+
+def recurrence(steps):
+    """The factors by which the number for k + S signs goes by those for k, k + 1 and so on.
+
+    They are the coefficients of the characteristic polynomial of the steps, taken from 0, which
+    come by the way of Faddeev and LeVerrier. All divisions there leave no rest.
     """
     many = len(steps)
-    hops = [[onward.count(state) for state in range(many)] for onward in steps]
-    ways = [1] + [0] * (many - 1)
-    while n > 0:
-        if n % 2 == 1:
-            ways = multiplied([ways], hops, modulus)[0]
-        n = n // 2
-        if n > 0:
-            hops = multiplied(hops, hops, modulus)
-    return sum([number for number, answer in zip(ways, told) if answer]) % modulus
+    table = [[0] * many for _ in range(many)]
+    coefficients = [1]
+    for number in range(1, many + 1):
+        for at in range(many):
+            table[at][at] = table[at][at] + coefficients[-1]
+        table = [summed([table[led] for led in onward]) for onward in steps]
+        coefficients.append(-sum([table[at][at] for at in range(many)]) // number)
+    return [-coefficient for coefficient in coefficients[:0:-1]]
 
 
-def multiplied(one, other, modulus):
-    """The product of two tables of numbers, modulo a number."""
-    columns = [list(column) for column in zip(*other)]
-    return [[sum([a * b for a, b in zip(row, column)]) % modulus for column in columns] for row in one]
+def summed(rows):
+    """The sums of the numbers that stand at the same places."""
+    return [sum(column) for column in zip(*rows)]
+
+
+def times_x(power, back, modulus):
+    """A sum of powers of x, by their factors, times x."""
+    top = power[-1]
+    return [(low + top * factor) % modulus for low, factor in zip([0] + power[:-1], back)]
+
+
+def product(one, other, back, modulus):
+    """The product of two sums of powers of x, by their factors."""
+    found = [0] * len(back)
+    for number in one[::-1]:
+        top = found[-1]
+        found = [(low + top * factor + number * further) % modulus
+                 for low, factor, further in zip([0] + found[:-1], back, other)]
+    return found

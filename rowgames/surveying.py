@@ -58,18 +58,21 @@ class Survey:
 
     def parts_behind(self, number):
         """The parts behind a part by each sign, which were not asked for before."""
+        ends = self.ends
+        numbers = self.numbers
+        states = self.states[number]
         end, back = self.parts[number]
-        tail = self.ends.met[end][1]
-        longest = self.ends.tail_length
+        tail = ends.met[end][1]
+        longest = ends.tail_length
         if len(tail) == longest and longest > 0:
-            back = self.led_on(back, self.ends.letters.index(tail[0]))
+            back = self.led_on(back, ends.letters.index(tail[0]))
         found = []
-        for at, further in enumerate(self.ends.onward[end] or self.ends.behind(end)):
+        for at, further in enumerate(ends.onward[end] or ends.behind(end)):
             # Without any rule no sign is kept in a tail: each one goes on in the back at once.
             part = (further, back if longest > 0 else self.led_on(back, at))
-            if part not in self.numbers:
-                self.keep(part, self.led_on(self.states[number], at))
-            found.append(self.numbers[part])
+            if part not in numbers:
+                self.keep(part, self.led_on(states, at))
+            found.append(numbers[part])
         self.onward[number] = found
         return found
 

@@ -3,7 +3,7 @@
 import importlib
 import inspect
 
-from helpers import Case
+from helpers import Case, defaults_of
 
 NAMES = {
     "signs": "Weights", "rules": "Rule", "books": "Book", "rows": "Row", "machines": "Machine",
@@ -53,7 +53,15 @@ PARAMETERS = {
     "lengths.lengths_of": "machine *every *most", "texts.write_book": "book", "texts.write_machine": "machine",
     "texts.write_game": "game", "texts.write_ledger": "ledger weights", "reader.read": "text", "reader.read_book": "text",
     "reader.read_machine": "text", "reader.read_game": "text", "reader.read_ledger": "text",
-    "images.led_into": "book machine *most", "images.stuck": "book *most", "images.image": "game machines *most",
+    "plain.met": "game row seat *most", "plain.is_won": "game row seat *most", "ledgers.ledger_of": "game row seat *most",
+    "ledgers.shows_won": "game row seat won ledger", "stands.passes": "game machines stand seat",
+    "stands.stands": "game machines *most", "tables.look": "game machines *most", "images.within": "game *most",
+    "lookers.shows_right": "game machines table", "lookers.shows_wrong": "game machines row seat bounds",
+    "parted.shows_least": "game machines table members endings",
+    "parted.shows_parted": "game seat beginnings endings ledger", "kept.kept": "book machine *most",
+    "kept.shows_kept": "book machine table", "kept.look_among": "game among machines *most",
+    "kept.shows_right_among": "game among machines table kept",
+    "kept.shows_wrong_among": "game among machines row seat bounds kept", "images.led_into": "book machine *most", "images.stuck": "book *most", "images.image": "game machines *most",
     "stands.stand_at": "game machines row", "stands.next_stand": "game machines stand sign",
     "least.least": "game most *rows *stands", "least.sizes": "game most *rows *stands"}
 
@@ -77,3 +85,11 @@ class TestInterface(Case):
         for path, names in PARAMETERS.items():
             told = inspect.signature(found_at(path)).parameters.values()
             self.same(" ".join("*" * (one.kind is one.KEYWORD_ONLY) + one.name for one in told), names)
+
+    def test_default_values(self):
+        known = {"most": 2000, "rows": 2000, "stands": 2000, "every": False, "begins": 0, "seat": 0}
+        for path in PARAMETERS:
+            for name, value in defaults_of(found_at(path)).items():
+                self.same(value, known[name])
+            named = [name[1:] for name in PARAMETERS[path].split() if name.startswith("*")]
+            self.assertLessEqual(set(named), set(defaults_of(found_at(path))))
