@@ -2,7 +2,7 @@
 
 from rowgames.errors import TooMany
 
-ROUNDS = 16
+ROUNDS = 8
 
 
 def led_on(signs, steps, state, text):
@@ -66,17 +66,23 @@ def kinds_of(steps, told):
     """For each state the number of its kind: states of one kind tell the same endings.
 
     States are of unlike kinds if a sign leads them into unlike kinds. A few rounds over all states
-    are mostly enough to find the kinds; if not, they are split one by one.
+    are mostly enough to find the kinds. If not, or if the rounds bring just a few kinds more each,
+    as with states in a chain, they are split one by one.
     """
     kinds = [1 if answer else 0 for answer in told]
     columns = [list(column) for column in zip(*steps)]
-    many = len(set(kinds))
-    for _ in range(ROUNDS):
+    counts = [len(set(kinds))]
+    while not are_slow(counts):
         kinds, further = split_by_columns(kinds, columns)
-        if further == many:
+        if further == counts[-1]:
             return kinds
-        many = further
+        counts.append(further)
     return split_one_by_one(kinds, steps)
+
+
+def are_slow(counts):
+    """Whether it is not worth while to go on with rounds, each of which came to so many kinds."""
+    return len(counts) > ROUNDS or (len(counts) > 4 and counts[-1] - counts[-4] < 10)
 
 
 def split_by_columns(kinds, columns):
