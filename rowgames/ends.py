@@ -12,12 +12,14 @@ class Ends:
         self.rules = [(seat, rule) for seat, book in enumerate(game.books) for rule in book.rules]
         self.tail_length = game.longest
         self.numbers = {}
-        # By numbers: the ends, the ends behind by each sign, and for each rule that fits: its
-        # seat, whether it is of the right end, and what it puts in the place of the tail, by the
-        # indexes of the signs.
+        # By numbers: the ends, their tails by the indexes of the signs, the ends behind by each
+        # sign, and what fitting rules put in the place of the tail, as pairs of their seat and the
+        # indexes of the signs: the rules that are not of the right end, and those that are.
         self.met = []
+        self.tails = []
         self.onward = []
-        self.texts = []
+        self.loose = []
+        self.bound = []
         self.meet((True, ""))
 
     def meet(self, end):
@@ -25,9 +27,11 @@ class Ends:
         fresh, tail = end
         self.numbers[end] = len(self.met)
         self.met.append(end)
+        self.tails.append(self.spelled(tail))
         self.onward.append(None)
         fitting = [(seat, rule) for seat, rule in self.rules if tail.endswith(rule.old) and ends_row(rule, fresh, tail)]
-        self.texts.append([(seat, rule.right, self.spelled(text_put(rule, tail))) for seat, rule in fitting])
+        self.loose.append([(seat, self.spelled(text_put(rule, tail))) for seat, rule in fitting if not rule.right])
+        self.bound.append([(seat, self.spelled(text_put(rule, tail))) for seat, rule in fitting if rule.right])
 
     def spelled(self, text):
         """The indexes of the signs of a text."""

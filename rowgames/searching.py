@@ -16,7 +16,9 @@ class Search:
         self.plays = Plays(game, rows)
         self.ends_met = Ends(game)
         self.members = [[""] for _ in game.books]
+        # The first ending is the empty one: it tells whether a member itself is won.
         self.ends = [[""] for _ in game.books]
+        self.machines = [None for _ in game.books]
         self.heard = [{} for _ in game.books]
 
     def told_of(self, seat, row):
@@ -43,39 +45,42 @@ class Search:
         """Whether a seat, when each further row that is alike to no member becomes one, has too many."""
         members = self.members[seat]
         kinds = self.kinds_of_members(seat)
-        rows = self.rows_behind(seat, members)
-        at = 0
-        while at < len(rows):
-            kind = self.told_of(seat, rows[at])
-            if kind not in kinds:
-                kinds[kind] = len(members)
+        rows = self.rows_behind(members)
+        # All are judged, whether they are needed or not: any of them may have too many positions.
+        told = [self.told_of(seat, row) for row in rows]
+        led = []
+        while len(led) < len(rows):
+            at = len(led)
+            if told[at] not in kinds:
+                kinds[told[at]] = len(members)
                 members.append(rows[at])
                 if len(members) > self.most:
                     return True
-                rows.extend(self.rows_behind(seat, members[-1:]))
-            at = at + 1
+                further = self.rows_behind(members[-1:])
+                rows.extend(further)
+                told.extend([self.told_of(seat, row) for row in further])
+            led.append(kinds[told[at]])
+        self.machines[seat] = self.machine_of(kinds, led)
         return False
 
-    def rows_behind(self, seat, members):
+    def rows_behind(self, members):
         """The rows of members and a sign more."""
-        rows = [member + sign for member in members for sign in self.game.weights.signs]
-        # All are judged, whether they are needed or not: any of them may have too many positions.
-        for row in rows:
-            self.told_of(seat, row)
-        return rows
+        return [member + sign for member in members for sign in self.game.weights.signs]
 
-    def machine_of(self, seat):
-        """The machine of a seat: a state for each member, in their order."""
+    def machine_of(self, kinds, led):
+        """The machine with a state for each kind of members, in their order.
+
+        Each kind begins with the answer at the member itself; led tells, sign by sign, where the
+        members lead.
+        """
         signs = self.game.weights.signs
-        kinds = self.kinds_of_members(seat)
-        members = self.members[seat]
-        steps = [[kinds[self.told_of(seat, member + sign)] for sign in signs] for member in members]
-        return Machine(signs, steps, [self.plays.is_won(member, seat) for member in members])
+        many = len(signs)
+        steps = [led[at * many:(at + 1) * many] for at in range(len(kinds))]
+        return Machine(signs, steps, [kind[0] for kind in kinds])
 
     def looked(self, stands):
         """The look at the machines; if they are wrong, the endings of that row are put behind the others."""
-        machines = [self.machine_of(seat) for seat in range(self.game.seats)]
-        found = look_on(self.ends_met, self.plays.equation, self.game, tuple(machines), stands)
+        found = look_on(self.ends_met, self.plays.equation, self.game, tuple(self.machines), stands)
         if not found:
             ends = self.ends[found.seat]
             for start in range(len(found.row) + 1):

@@ -1,16 +1,16 @@
 """Surveying: going from stand to stand by numbers alone.
 
-A code is a tuple of five numbers: that of the part of a stand (fresh, back and tail), for two seats
-the set of states behind their moves, the state of the goal, and that of a further machine, among.
-What is not there counts as a machine of one state, and as a seat without moves. A set of states is
-a number with a binary figure 1 for each of them. What comes of a number by each sign is found once
-and kept.
+A code is a tuple of seven numbers: that of the end of the rows (fresh and tail), for two seats the
+state of the machine ahead of the tail, for two seats the set of states behind their moves, the
+state of the goal, and that of a further machine, among. What is not there counts as a machine of
+one state, and as a seat without moves. A set of states is a number with a binary figure 1 for each
+of them. What comes of sets and of ends is found once and kept.
 """
 
 from rowgames.errors import TooMany
 from rowgames.standing import led_by
 
-FIRST = (0, 0, 0, 0, 0)
+FIRST = (0, 0, 0, 0, 0, 0, 0)
 
 
 class Survey:
@@ -20,65 +20,24 @@ class Survey:
         self.ends = ends
         self.game = game
         self.machines = machines
-        self.ways = [machine.steps for machine in machines]
-        self.many = len(game.weights.signs)
+        self.many = len(ends.letters)
         still = [[0] * self.many]
+        self.ways = [machine.steps for machine in machines]
+        self.ways_two = self.ways[1] if len(machines) == 2 else still
         self.goal_ways = still if game.goal is None else game.goal.steps
         self.among_ways = still if among is None else among.steps
-        self.led_one = {0: [0] * self.many}
-        self.led_two = {0: [0] * self.many}
-        # The parts (number of the end, back) by numbers. For each one those behind it, the states
-        # of the machines, the sets that are put on for both seats, and those of the right end.
-        self.parts = []
-        self.numbers = {}
-        self.onward = []
-        self.states = []
-        self.put_one = []
-        self.put_two = []
-        self.bound = []
-        back = (0,) * len(machines)
-        self.keep((0, back), back)
+        self.led_one = {0: still[0]}
+        self.led_two = {0: still[0]}
+        self.put_sets = {}
 
-    def keep(self, part, states):
-        """Gives a new part a number. Behind its rows the machines are in these states."""
-        end, back = part
-        self.numbers[part] = len(self.parts)
-        self.parts.append(part)
-        self.onward.append(None)
-        self.states.append(states)
-        put = [0, 0]
-        bound = [0, 0]
-        for seat, right, indexes in self.ends.texts[end]:
+    def put_on(self, end, one, two):
+        """For two seats the sets that are put on at an end ahead of which the machines are in these states."""
+        sets = [0, 0]
+        for seat, indexes in self.ends.loose[end]:
             judge = self.game.judges[seat]
-            sets = bound if right else put
-            sets[seat] = sets[seat] | (1 << led_by(self.ways[judge], back[judge], indexes))
-        self.put_one.append(put[0])
-        self.put_two.append(put[1])
-        self.bound.append(bound)
-
-    def parts_behind(self, number):
-        """The parts behind a part by each sign, which were not asked for before."""
-        ends = self.ends
-        numbers = self.numbers
-        states = self.states[number]
-        end, back = self.parts[number]
-        tail = ends.met[end][1]
-        longest = ends.tail_length
-        if len(tail) == longest and longest > 0:
-            back = self.led_on(back, ends.letters.index(tail[0]))
-        found = []
-        for at, further in enumerate(ends.onward[end] or ends.behind(end)):
-            # Without any rule no sign is kept in a tail: each one goes on in the back at once.
-            part = (further, back if longest > 0 else self.led_on(back, at))
-            if part not in numbers:
-                self.keep(part, self.led_on(states, at))
-            found.append(numbers[part])
-        self.onward[number] = found
-        return found
-
-    def led_on(self, states, at):
-        """The states of the machines one sign on."""
-        return tuple([ways[state][at] for ways, state in zip(self.ways, states)])
+            sets[seat] = sets[seat] | (1 << led_by(self.ways[judge], (one, two)[judge], indexes))
+        self.put_sets[(end, one, two)] = sets
+        return sets
 
     def moved_on(self, led, seat, moved):
         """The sets behind a set of a seat by each sign, which were not asked for before."""
@@ -89,29 +48,52 @@ class Survey:
 
     def behind(self, code):
         """The codes behind a code by each sign."""
-        number, one, two, goal, state = code
-        parts = self.onward[number] or self.parts_behind(number)
-        ones = self.led_one.get(one) or self.moved_on(self.led_one, 0, one)
-        twos = self.led_two.get(two) or self.moved_on(self.led_two, 1, two)
-        put_one = self.put_one
-        put_two = self.put_two
-        return [(part, a | put_one[part], b | put_two[part], led, to) for part, a, b, led, to in zip(
-            parts, ones, twos, self.goal_ways[goal], self.among_ways[state])]
+        end, one, two, moved_one, moved_two, goal, state = code
+        ends = self.ends
+        tail = ends.tails[end]
+        if ends.tail_length == 0:
+            return self.behind_bare(code)
+        if len(tail) == ends.tail_length:
+            one = self.ways[0][one][tail[0]]
+            two = self.ways_two[two][tail[0]]
+        onward = ends.onward[end] or ends.behind(end)
+        ones = self.led_one.get(moved_one) or self.moved_on(self.led_one, 0, moved_one)
+        twos = self.led_two.get(moved_two) or self.moved_on(self.led_two, 1, moved_two)
+        found = []
+        for further, a, b, led, to in zip(onward, ones, twos, self.goal_ways[goal], self.among_ways[state]):
+            if ends.loose[further]:
+                put_one, put_two = self.put_sets.get((further, one, two)) or self.put_on(further, one, two)
+                found.append((further, one, two, a | put_one, b | put_two, led, to))
+            else:
+                found.append((further, one, two, a, b, led, to))
+        return found
+
+    def behind_bare(self, code):
+        """The same without any rule: no sign is kept in a tail, each one goes on in the machines at once."""
+        end, one, two, _, _, goal, state = code
+        return [(further, a, b, 0, 0, led, to) for further, a, b, led, to in zip(
+            self.ends.onward[end] or self.ends.behind(end), self.ways[0][one], self.ways_two[two],
+            self.goal_ways[goal], self.among_ways[state])]
 
     def is_told(self, code, seat):
         """Whether the machine of a seat tells the rows of a code."""
-        return self.machines[seat].told[self.states[code[0]][seat]]
+        return self.machines[seat].told[led_by(self.ways[seat], code[1 + seat], self.ends.tails[code[0]])]
 
     def moved(self, code, seat):
         """The set of the states behind all moves of a seat."""
-        return code[1 + seat] | self.bound[code[0]][seat]
+        found = code[3 + seat]
+        judge = self.game.judges[seat]
+        for other, indexes in self.ends.bound[code[0]]:
+            if other == seat:
+                found = found | (1 << led_by(self.ways[judge], code[1 + judge], indexes))
+        return found
 
     def stand_of_code(self, code):
         """The stand of a code."""
-        end, back = self.parts[code[0]]
-        fresh, tail = self.ends.met[end]
-        moved = tuple([states_of(states) for states in code[1:1 + len(back)]])
-        return (fresh, back, tail, moved, None if self.game.goal is None else code[3])
+        fresh, tail = self.ends.met[code[0]]
+        many = len(self.machines)
+        moved = tuple([states_of(states) for states in code[3:3 + many]])
+        return (fresh, code[1:1 + many], tail, moved, None if self.game.goal is None else code[5])
 
 
 class Readings:
@@ -122,21 +104,20 @@ class Readings:
         self.equation = equation
         game = survey.game
         self.goals = [False] if game.goal is None else game.goal.told
-        self.told_by_seat = [machine.told for machine in survey.machines]
-        self.yes_sets = [told_set(self.told_by_seat[judge], True) for judge in game.judges]
-        self.no_sets = [told_set(self.told_by_seat[judge], False) for judge in game.judges]
+        told = [survey.machines[judge].told for judge in game.judges]
+        self.yes_sets = [told_set(answers, True) for answers in told]
+        self.no_sets = [told_set(answers, False) for answers in told]
 
     def reads(self, code, seat):
         """The right side of a seat's equation at the rows of a code."""
-        moved = code[1 + seat] | self.survey.bound[code[0]][seat]
+        moved = self.survey.moved(code, seat)
         bare, with_goal = self.equation.read_by((moved & self.no_sets[seat] > 0, moved & self.yes_sets[seat] > 0))
-        return with_goal if self.goals[code[3]] else bare
+        return with_goal if self.goals[code[5]] else bare
 
     def failing(self, code):
         """The first seat whose equation fails at the rows of a code, None if none does."""
-        states = self.survey.states[code[0]]
-        for seat, told in enumerate(self.told_by_seat):
-            if told[states[seat]] != self.reads(code, seat):
+        for seat in range(len(self.yes_sets)):
+            if self.survey.is_told(code, seat) != self.reads(code, seat):
                 return seat
         return None
 

@@ -41,7 +41,7 @@ def passed_pairs(survey, equation, among, most):
     readings = Readings(survey, equation)
     passed = []
     for code, row in walk(survey, most):
-        if among is None or among.told[code[4]]:
+        if among is None or among.told[code[6]]:
             seat = readings.failing(code)
             if seat is not None:
                 return with_stands(survey, passed), row, seat
@@ -51,4 +51,4 @@ def passed_pairs(survey, equation, among, most):
 
 def with_stands(survey, passed):
     """Codes and rows as pairs of a stand and a state, and rows."""
-    return [((survey.stand_of_code(code), code[4]), row) for code, row in passed]
+    return [((survey.stand_of_code(code), code[6]), row) for code, row in passed]
