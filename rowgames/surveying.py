@@ -35,7 +35,8 @@ class Survey:
         sets = [0, 0]
         for seat, indexes in self.ends.loose[end]:
             judge = self.game.judges[seat]
-            sets[seat] = sets[seat] | (1 << led_by(self.ways[judge], (one, two)[judge], indexes))
+            ahead = one if judge == 0 else two
+            sets[seat] = sets[seat] | (1 << led_by(self.ways[judge], ahead, indexes))
         self.put_sets[(end, one, two)] = sets
         return sets
 
