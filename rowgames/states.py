@@ -104,8 +104,10 @@ def split_one_by_one(kinds, steps):
     ahead = origins(steps)
     found = list(kinds)
     blocks = {}
+    for kind in sorted(set(found)):
+        blocks[kind] = {}
     for state, kind in enumerate(found):
-        blocks.setdefault(kind, {})[state] = True
+        blocks[kind][state] = True
     waiting = list(blocks)
     while waiting:
         splitter = list(blocks[waiting.pop()])

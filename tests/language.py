@@ -38,23 +38,29 @@ TAKING = {"list", "tuple", "dict", "sorted", "sum", "any", "all", "enumerate", "
 
 
 class File:
-    """A file of the package with its tree; each node knows what stands around it."""
+    """A file of the package with its tree."""
 
     def __init__(self, name):
         self.name = name
         with open(os.path.join(PACKAGE, name), "rb") as file:
             self.raw = file.read()
         self.text = self.raw.decode("utf-8")
-        self.tree = ast.parse(self.text)
-        for node in ast.walk(self.tree):
-            for child in ast.iter_child_nodes(node):
-                child.above = node
+        self.tree = tree_of(self.text)
 
     def nodes(self, *kinds):
         return [node for node in ast.walk(self.tree) if isinstance(node, kinds)]
 
     def says(self, node, text):
         return f"{self.name}:{getattr(node, 'lineno', 0)}: {text}"
+
+
+def tree_of(text):
+    """The tree of a text; each node knows what stands around it."""
+    tree = ast.parse(text)
+    for node in ast.walk(tree):
+        for child in ast.iter_child_nodes(node):
+            child.above = node
+    return tree
 
 
 def package_files():

@@ -87,6 +87,80 @@ def root_of(node):
     return node.id if isinstance(node, ast.Name) else ast.unparse(node)
 
 
+def changed_parts(function):
+    """The statements and calls that change a value, with the expression of this value."""
+    for node in ast.walk(function):
+        if isinstance(node, ast.Call) and isinstance(node.func, ast.Attribute) and node.func.attr in MODIFYING:
+            yield node, node.func.value
+        elif isinstance(node, ast.Subscript) and isinstance(node.ctx, (ast.Store, ast.Del)):
+            yield node, node.value
+
+
+def is_setdefault(node):
+    return isinstance(node, ast.Call) and isinstance(node.func, ast.Attribute) and node.func.attr == "setdefault"
+
+
+def given_items(function, name):
+    """The expressions of all items that a function gives what it keeps under a name; None for what is not told."""
+    for node in ast.walk(function):
+        if isinstance(node, ast.Assign):
+            for target in node.targets:
+                if isinstance(target, ast.Name) and target.id == name:
+                    yield from items_of(node.value)
+                if isinstance(target, ast.Subscript) and ast.unparse(target.value) == name:
+                    yield node.value
+        if isinstance(node, ast.Call) and isinstance(node.func, ast.Attribute) and ast.unparse(node.func.value) == name:
+            if node.func.attr in ("append", "setdefault"):
+                yield node.args[-1]
+            elif node.func.attr in MODIFYING - {"pop", "remove", "clear"}:
+                yield None
+
+
+def items_of(node):
+    """The expressions of the items of a value that is written out."""
+    if isinstance(node, ast.ListComp):
+        return [node.elt]
+    if isinstance(node, ast.DictComp):
+        return [node.value]
+    if isinstance(node, ast.List):
+        return node.elts
+    if isinstance(node, ast.Dict):
+        return node.values
+    return [None]
+
+
+def is_only_looked_at(function, name):
+    """Whether what is kept under a name is only indexed, iterated over, measured, copied or returned."""
+    for node in ast.walk(function):
+        if not isinstance(node, ast.Name) or node.id != name or isinstance(node.ctx, ast.Store):
+            continue
+        above = node.above
+        taken = isinstance(above, ast.Call) and ast.unparse(above.func) in ("len", "list", "dict", "tuple", "sorted")
+        looped = isinstance(above, (ast.For, ast.comprehension)) and above.iter is node
+        if not (taken or looped or isinstance(above, (ast.Subscript, ast.Attribute, ast.Return))):
+            return False
+    return True
+
+
+def check_deep_changes(function):
+    """The changes of items of items that are not in the forms of L5 Operators, with what is wrong in each."""
+    created = created_in(function)
+    for node, changed in changed_parts(function):
+        if isinstance(changed, ast.Name) or isinstance(changed, ast.Attribute):
+            continue
+        name = root_of(changed)
+        if is_setdefault(changed):
+            if not isinstance(node, ast.Call):
+                yield node, "an item of what setdefault returns"
+            changed = changed.func
+        if not isinstance(changed.value, ast.Name):
+            yield node, "what is deeper than an item of an item"
+        elif name not in created or not is_only_looked_at(function, name):
+            yield node, f"items of items of {name}"
+        elif not all(item is not None and is_new(item) for item in given_items(function, name)):
+            yield node, f"an item of {name} that it did not create"
+
+
 def changes_of(function):
     """The names that a function changes by methods, items and attributes."""
     for node in ast.walk(function):
@@ -107,6 +181,8 @@ def check_purity(files):
         for node, name in changes_of(function):
             if name not in created or is_generator(function):
                 found.append(file.says(node, f"{function.name} changes {name}"))
+        for node, text in check_deep_changes(function):
+            found.append(file.says(node, f"{function.name} changes {text}"))
         for node in ast.walk(function):
             if isinstance(node, ast.AugAssign):
                 found.append(file.says(node, f"{function.name} assigns in place"))

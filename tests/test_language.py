@@ -4,7 +4,19 @@ import ast
 import unittest
 
 import language
-from purity import check_purity, run_by_operators
+from purity import check_deep_changes, check_purity, run_by_operators
+
+# Changes of items of items: those that L5 Operators lists, and others.
+LISTED = ["found = [[] for k in rows]; found[0].append(1)", "found = {}; found[k] = []; found[k].append(1)",
+          "found = {}; found.setdefault(k, []).append(1)", "found = {}; found[k] = {}; found[k][s] = True; return found",
+          "found = {k: {} for k in rows}; del found[k][s]; found[s] = {k: 1 for k in rows}",
+          "found = [[], []]; found[1].append(len(found)); found.append([])", "found = []; found.append([1]); found[0][0] = 2"]
+UNLISTED = ["found = {}; found.setdefault(k, {})[s] = True", "found = {}; del found.setdefault(k, {})[s]",
+            "found = {}; found[k] = rows; found[k].append(1)", "found = [k for k in rows]; found[0].append(1)",
+            "found = {}; found.setdefault(k, rows).append(1)", "found = rows; found[0].append(1)",
+            "found = [[] for k in rows]; s = other(found); found[0].append(1)", "rows[0].append(1)",
+            "found = [[] for k in rows]; found.extend(rows); found[0][s] = 1", "found = {}; found[k] = {}; found[k][s][0] = 1",
+            "found = [[] for k in rows]; kept = found; found[0][0] = 1", "found = list(rows); found[0].append(1)"]
 
 
 class TestLanguage(unittest.TestCase):
@@ -67,4 +79,10 @@ class TestLanguage(unittest.TestCase):
     def test_operators_change_nothing(self):
         self.assertEqual(check_purity(self.files), [])
         run = {function.name for function, _ in run_by_operators(self.files)}
-        self.assertLessEqual({"paired", "smallest", "mirrored", "weigh", "check_row"}, run)
+        self.assertLessEqual({"paired", "smallest", "mirrored", "weigh", "check_row", "split_one_by_one"}, run)
+
+    def test_changes_of_items_of_items(self):
+        for wrong, texts in ((0, LISTED), (1, UNLISTED)):
+            for text in texts:
+                tree = language.tree_of(f"def asked(rows, k, s):\n    {text}\n")
+                self.assertEqual(len(list(check_deep_changes(tree.body[0]))), wrong, text)
