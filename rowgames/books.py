@@ -2,7 +2,7 @@
 
 from rowgames.errors import BadBook, Heavier, OtherSigns, Unlessened
 from rowgames.letters import check_row, new_letters, respelled, weigh, wrong_at
-from rowgames.moving import moves_from, row_behind_move, rows_behind
+from rowgames.moving import has_move, moves_from, row_behind_move, rows_behind
 from rowgames.rules import Rule
 from rowgames.signs import Weights
 
@@ -59,7 +59,7 @@ class Book:
     def finished(self, row):
         """Whether there is no move from a row."""
         check_row(self.weights.signs, row)
-        return moves_from(self.rules, row) == []
+        return not has_move(self.rules, row)
 
     def led_to(self, row):
         """The rows to which the moves from a row lead, in the order of moves."""

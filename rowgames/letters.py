@@ -17,7 +17,8 @@ def is_natural(value):
 
 def is_from_to(value, low, high):
     """Whether any value is an integer from low to high."""
-    return is_integer(value) and low <= value <= high
+    # Written out, as it is asked for several times at each move of a contest.
+    return isinstance(value, int) and not isinstance(value, bool) and low <= value <= high
 
 
 def is_letter(value):

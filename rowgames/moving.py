@@ -6,12 +6,30 @@ from rowgames.letters import is_from_to, is_integer
 
 def moves_from(rules, row):
     """The moves from a row, ascending."""
-    fitting = {}
+    many = len(rules)
+    if many == 1:
+        return [(place, 0) for place in rules[0].all_places(row)]
+    # A move as one number: these are in order as the moves are.
+    numbers = sorted([int(place * many + index) for index, rule in enumerate(rules) for place in rule.all_places(row)])
+    return [(number // many, number % many) for number in numbers]
+
+
+def has_move(rules, row):
+    """Whether there is a move from a row."""
+    for rule in rules:
+        if rule.first_place(row) >= 0:
+            return True
+    return False
+
+
+def first_move(rules, row):
+    """The first move from a row, None if there is none."""
+    first = None
     for index, rule in enumerate(rules):
-        for place in rule.places(row):
-            fitting.setdefault(place, []).append(index)
-    places = sorted([int(place) for place in fitting])
-    return [(place, index) for place in places for index in fitting[place]]
+        place = rule.first_place(row)
+        if place >= 0 and (first is None or place < first[0]):
+            first = (place, index)
+    return first
 
 
 def rows_behind(rules, row):
@@ -28,7 +46,7 @@ def row_of_move(rules, row, move):
 
 def has_form_of_move(value):
     """Whether any value is a tuple of two integers."""
-    return isinstance(value, tuple) and len(value) == 2 and all([is_integer(part) for part in value])
+    return isinstance(value, tuple) and len(value) == 2 and is_integer(value[0]) and is_integer(value[1])
 
 
 def is_move(rules, row, value):

@@ -2,8 +2,9 @@
 
 from rowgames.errors import BadGame, BadNumber, BadSeat, NoMove
 from rowgames.games import Alone, Duel, check_seat
+from rowgames.judging import answers_behind
 from rowgames.letters import check_row, is_from_to, is_natural
-from rowgames.moving import moves_from, row_behind_move, row_of_move
+from rowgames.moving import first_move, has_move, moves_from, row_behind_move
 from rowgames.standing import check_machines
 
 
@@ -51,7 +52,11 @@ class Leftmost(Mover):
 
     def chosen(self, row, seat=0):
         """The move that it makes."""
-        return moves_to_choose(self.game, row, seat)[0]
+        check_place(self.game, row, seat)
+        move = first_move(self.game.books[seat].rules, row)
+        if move is None:
+            raise NoMove(row)
+        return move
 
     def __call__(self, row, seat=0):
         return self.chosen(row, seat)
@@ -94,7 +99,7 @@ class Perfect(Seer, Mover):
     def chosen(self, row, seat=0):
         """The move that it makes."""
         moves = moves_to_choose(self.game, row, seat)
-        return first_of(winning_moves(self.game, self.machines, row, seat) + moves)
+        return first_of(winning_among(self.game, self.machines, row, seat, moves) + moves)
 
     def __call__(self, row, seat=0):
         return self.chosen(row, seat)
@@ -115,10 +120,16 @@ def first_of(moves):
 
 def winning_moves(game, machines, row, seat):
     """The moves of a seat that are winning by machines, ascending."""
-    rules = game.books[seat].rules
-    judge = machines[game.judge(seat)]
+    return winning_among(game, machines, row, seat, moves_from(game.books[seat].rules, row))
+
+
+def winning_among(game, machines, row, seat, moves):
+    """Those of all moves of a seat from a row that are winning by machines."""
+    if moves == []:
+        return []
     wanted = isinstance(game, Alone)
-    return [move for move in moves_from(rules, row) if judge[row_of_move(rules, row, move)] == wanted]
+    answers = answers_behind(machines[game.judges[seat]], game.books[seat].rules, row, moves)
+    return [move for move, answer in zip(moves, answers) if answer == wanted]
 
 
 def moves_to_choose(game, row, seat):
@@ -149,19 +160,15 @@ def winner(game, row, *players, begins=0):
 
 def turns(game, row, players, begins):
     """The moves of two players by turns, until there is no move for the one who is to move."""
+    # The seats at which the players move: of Sides their numbers, otherwise 0 and 0.
+    seats = (0, game.seats - 1)
+    rules = [game.books[seat].rules for seat in seats]
     number = begins
-    rules = game.books[seat_of(game, number)].rules
-    while moves_from(rules, row) != []:
-        move = players[number].chosen(row, seat_of(game, number))
-        row = row_behind_move(rules, row, move)
+    while has_move(rules[number], row):
+        move = players[number].chosen(row, seats[number])
+        row = row_behind_move(rules[number], row, move)
         yield number, move, row
         number = 1 - number
-        rules = game.books[seat_of(game, number)].rules
-
-
-def seat_of(game, number):
-    """The seat at which a player moves: their number in Sides, otherwise 0."""
-    return number if game.seats == 2 else 0
 
 
 def check_contest(game, row, players, begins):

@@ -51,11 +51,29 @@ class Rule:
 
     def places(self, row):
         """The places at which the rule fits a row, ascending."""
+        for place in self.all_places(row):
+            yield place
+
+    def all_places(self, row):
+        """The list of the places at which the rule fits a row, ascending."""
+        if self.left or self.right:
+            place = self.first_place(row)
+            return [place] if place >= 0 else []
+        found = []
         place = row.find(self.old)
         while place >= 0:
-            if self.fits(row, place):
-                yield place
+            found.append(place)
             place = row.find(self.old, place + 1)
+        return found
+
+    def first_place(self, row):
+        """The first place at which the rule fits a row, below 0 if there is none."""
+        if self.left:
+            there = row == self.old if self.right else row.startswith(self.old)
+            return 0 if there else -1
+        if self.right:
+            return len(row) - len(self.old) if row.endswith(self.old) else -1
+        return row.find(self.old)
 
     def __call__(self, row, place):
         """The row that comes of the rule at a place."""

@@ -542,5 +542,8 @@ def check_shared_names(files):
     found += [f"{name} is a class method and something else" for name in made & (methods | stored | values | METHODS)]
     found += [f"{name} is a class value and something else" for name in values & (methods | stored)]
     found += [f"{name} is a method and an attribute" for name in methods & stored]
+    for file in files:
+        found += [file.says(node, "a star before a property") for node in file.nodes(ast.Starred)
+                  if isinstance(node.value, ast.Attribute) and node.value.attr in properties]
     known = stored | properties | values | {"__name__", "__class__"}
     return found + [text for name, text in read.items() if name not in known]

@@ -1,6 +1,8 @@
 """Players and contests, held against moves and plays that are told by the words."""
 
 import itertools
+import random
+import sys
 
 from rowgames.books import Book
 from rowgames.errors import BadGame, BadMove, BadNumber, BadRow, BadSeat, NoMove, OtherSigns
@@ -9,7 +11,7 @@ from rowgames.machines import Machine
 from rowgames.players import Leftmost, Mover, Numbered, Perfect, Player, Seer, contest, winner
 from rowgames.rules import Rule
 from rowgames.signs import Weights
-from helpers import FLIP, ODD, SHARED, XO, Case, defaults_of, same, values_but
+from helpers import EVERY, FLIP, ODD, SHARED, XO, Case, defaults_of, same, values_but
 from oracle import NO_RULES, all_games, machines_of, moves_of, other_seat, rows_up_to, small_games, wins
 from test_tables import SOLVED
 
@@ -43,6 +45,37 @@ class Told(Player):
     def chosen(self, row, seat=0):
         self.asked.append((row, seat))
         return self.moves.pop(0)
+
+
+class Asked(Player):
+    """A player who asks another one, and keeps what it was asked."""
+
+    def __init__(self, player):
+        super().__init__(player.game)
+        self.player = player
+        self.asked = []
+
+    def chosen(self, row, seat=0):
+        self.asked.append((row, seat))
+        return self.player.chosen(row, seat)
+
+
+def steps_of(ask, *told):
+    """How many lines of the program a call goes through: no clock is needed to see whether they are too many."""
+    many = 0
+
+    def count(frame, event, _):
+        nonlocal many
+        many += event == "line"
+        return count
+
+    before = sys.gettrace()
+    sys.settrace(count)
+    try:
+        ask(*told)
+    finally:
+        sys.settrace(before)
+    return many
 
 
 class TestSeer(Case):
@@ -109,6 +142,68 @@ class TestSeer(Case):
             self.raises(BadGame("machines"), kind, sides, ODD)
             self.raises(OtherSigns("machines"), kind, SHARED, Machine.none("ox"))
             self.raises(OtherSigns("machines"), kind, sides, ODD, Machine.none("xoz"))
+
+
+class TestLongRows(Case):
+    ONE, TWO, THREE = Rule("x", "o"), Rule("xx", "o"), Rule("xxx", "oo")
+
+    def test_rows_without_a_winning_move(self):
+        row = "x" * 1000
+        some = Some(Book(XO, self.ONE), NONE)
+        sides = Sides(Book(XO, self.ONE, self.TWO, self.THREE), Book(XO, self.ONE))
+        for game, machines in ((Shared(Book(XO, self.ONE)), [EVERY]), (some, [NONE]), (sides, [EVERY, EVERY])):
+            for kind in (Seer, Perfect):
+                seer = kind(game, *machines)
+                self.same(seer.winning(row), None)
+                self.same(list(seer.all_winning(row)), [])
+            self.same(seer.chosen(row), (0, 0))
+
+    def test_rows_with_winning_moves(self):
+        row = "x" * 1000
+        sides = Sides(Book(XO, self.ONE, self.TWO, self.THREE), Book(XO, self.ONE))
+        moves = [(place, index) for place in range(1000) for index in range(3) if place + index < 1000]
+        self.same(list(Seer(sides, NONE, NONE).all_winning(row)), moves)
+        some = Some(Book(XO, self.ONE), NONE)
+        having = Machine.having("xo", "o")
+        self.same([Seer(some, having).winning(row), list(Seer(some, ~having).all_winning(row))], [(0, 0), []])
+        ending = Machine("xo", [(0, 1), (0, 1)], [False, True])
+        self.same([Seer(some, ending).winning(row), list(Seer(some, ending).all_winning(row))], [(999, 0), [(999, 0)]])
+
+    def test_moves_of_rows_of_all_lengths(self):
+        chance = random.Random(20)
+        ways = set()
+        for at, game in enumerate(small_games() + all_games()):
+            for states in (1, 2, 3, 5, 9, 64):
+                machines = machines_of(game, states, at)
+                seers = [Seer(game, *machines), Perfect(game, *machines)]
+                for length in (4, 9, 17, 40, 150):
+                    row = "".join(chance.choices(game.weights.signs, k=length))
+                    for seat, seer in itertools.product(range(game.seats), seers):
+                        wanted = winning_of(game, machines, row, seat)
+                        self.same(list(seer.all_winning(row, seat)), wanted)
+                        self.same(seer.winning(row, seat), wanted[0] if wanted else None)
+                        many = len(game.books[seat](row))
+                        ways.add((min(many, 20), states, bool(wanted)))
+        self.assertGreater(len(ways), 100)
+
+    def test_rows_with_so_many_moves(self):
+        """Whatever way is taken for a few moves, and for more of them: each one is judged alike."""
+        book = Book(XO, Rule("xo", ""), Rule("x", "oo"), Rule("oxx", "o"))
+        for states, many in itertools.product((1, 2, 3, 4, 8, 20), range(20)):
+            for game in (Some(book, ODD), Shared(book), Sides(book, NO_RULES)):
+                machines = machines_of(game, states, many)
+                for row in ("oo" + "xo" * many, "x" * many, "oxx" * many + "o"):
+                    wanted = winning_of(game, machines, row, 0)
+                    self.same(list(Seer(game, *machines).all_winning(row)), wanted)
+                    self.same(Seer(game, *machines).winning(row), wanted[0] if wanted else None)
+
+    def test_few_steps(self):
+        """A row that is twice as long takes about twice as many steps, not four times as many."""
+        sides = Sides(Book(XO, self.ONE, self.TWO, self.THREE), Book(XO, self.ONE))
+        for game, machine in ((Shared(FLIP), EVERY), (Some(FLIP, NONE), NONE), (Every(FLIP, ODD), ODD), (sides, EVERY)):
+            seer = Perfect(game, *[machine] * game.seats)
+            for ask in (seer.winning, lambda row: list(seer.all_winning(row)), seer.chosen):
+                self.assertLess(steps_of(ask, "x" * 1000), 3 * steps_of(ask, "x" * 500))
 
 
 class TestMovers(Case):
@@ -292,6 +387,30 @@ class TestContest(Case):
                         self.same(winner(game, row, perfect, other), 0)
                     if not wins(game, row, game.seats - 1, memo):
                         self.same(winner(game, row, perfect, other, begins=1), 0)
+
+    def test_a_long_contest(self):
+        book = Book(Weights(("x", 9), ("o", 2), ("z", 1)), Rule("x", "oooo"), Rule("o", "z"), Rule("z", ""))
+        for game in (Shared(book), Sides(book, book, last=False)):
+            wanted, to_move = self.told(game, "x" * 12, (Leftmost(game), Leftmost(game)), 1)
+            self.same([len(wanted), to_move], [108, 1])
+            players = [Asked(Leftmost(game)), Asked(Leftmost(game))]
+            self.same(list(contest(game, "x" * 12, *players, begins=1)), wanted)
+            seats = [0, game.seats - 1]
+            rows = ["x" * 12] + [row for _, _, row in wanted]
+            for number in (0, 1):
+                self.same(players[number].asked, [(row, seats[number]) for row in rows[1 - number:-1:2]])
+            found = list(contest(game, "x" * 112, Leftmost(game), Leftmost(game)))
+            self.same([len(found), found[-1]], [1008, (1, (0, 2), "")])
+            self.same(winner(game, "x" * 112, Leftmost(game), Leftmost(game)), 1 if game.last else 0)
+
+    def test_few_steps(self):
+        """A contest of twice as many moves takes about twice as many steps: each move takes no more of them."""
+        told = {}
+        for many in (500, 1000):
+            moves = list(contest(SHARED, "x" * many, Leftmost(SHARED), Leftmost(SHARED)))
+            self.same(len(moves), many)
+            told[many] = steps_of(winner, SHARED, "x" * many, Leftmost(SHARED), Leftmost(SHARED))
+        self.assertLess(told[1000], 3 * told[500])
 
     def test_errors_come_in_their_order(self):
         player = Leftmost(SHARED)
