@@ -21,8 +21,9 @@ def answers_one_by_one(machine, rules, row, moves):
     read = 0
     answers = []
     for place, index in moves:
-        state = led_on(signs, steps, state, row[read:place])
-        read = place
+        if place > read:
+            state = led_on(signs, steps, state, row[read:place])
+            read = place
         rule = rules[index]
         behind = led_on(signs, steps, state, rule.new + row[place + len(rule.old):])
         answers.append(told[behind])
